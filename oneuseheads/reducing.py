@@ -147,7 +147,6 @@ def _drops(term, path):
 
 def drops(term):
     """Whether some order drops what is handed over."""
-    need_term(term)
     come = term
     # Where one order drops each one drops, so one of them tells it.
     for path in fewest(term):

@@ -47,8 +47,8 @@ def is_right_table(kind, value):
 
 
 def _reads_back(rows, links):
+    """Whether links, of which no two have one goal, read back."""
     goals = {end: goal for end, _, goal in links}
-    used = {}
     read = 0
     pending = [(len(rows) - 1, ())]
     while pending:
@@ -59,9 +59,8 @@ def _reads_back(rows, links):
         goal = goals[end]
         free = around + rows[end][1]
         if goal is not None:
-            if goal not in free or goal in used:
+            if goal not in free:
                 return False
-            used[goal] = True
             pending.extend([(part, free) for part in rows[goal][1]])
     return read == len(links)
 
@@ -100,10 +99,10 @@ def _weigh(rows, links, end):
     if goal is not None:
         calls = len(rows[goal][1])
         nodes += calls
-        row += calls
         for at, part in enumerate(rows[goal][1]):
             more, deep = _weigh(rows, links, part)
             nodes += more
+            # What is handed on first stands in all the calls, what is handed on last in one.
             row = max(row, calls - at + deep)
     return nodes, ahead + row
 

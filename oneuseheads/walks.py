@@ -144,7 +144,8 @@ class Token:
         if not self._trail:
             return False
         self.place, self.end, many = self._trail.pop()
-        del self._written[many:]
+        while len(self._written) > many:
+            self._written.pop()
         if self._over:
             self._over = False
         else:
