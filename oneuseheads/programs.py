@@ -1,8 +1,8 @@
 """Programs: a term to begin with, one for each letter, and one that makes a text of what comes."""
 
-from oneuseheads.errors import BadProgram, BadText, TooMany
+from oneuseheads.errors import BadProgram, BadText, OtherLetters, TooMany
 from oneuseheads.kinds import MOST_ENDS, TEXT, count_ends, is_kind
-from oneuseheads.terms import MOST_NODES, MOST_ROW, is_closed_of, is_letter, parts_in, row_in
+from oneuseheads.terms import MOST_NODES, MOST_ROW, is_closed_of, is_letter, is_text_of, parts_in, row_in
 
 MOST_STEPS = 4
 
@@ -53,9 +53,33 @@ def letters_of(steps):
     return "".join([letter for letter, _ in steps])
 
 
+def need_same_letters(one, other):
+    """Raises OtherLetters unless both programs read the same letters."""
+    if letters_of(one[3]) != letters_of(other[3]):
+        raise OtherLetters("these programs read unlike letters")
+
+
+def need_pair(one, other):
+    """Raises BadProgram unless both are programs, and OtherLetters unless they read the same letters."""
+    need_program(one)
+    need_program(other)
+    need_same_letters(one, other)
+
+
+def may_write(program):
+    """The text of the letters, ascending, of all puts in the terms of what is known to be a program."""
+    _, _, init, steps, last = program
+    found = {}
+    for term in [init, *[step for _, step in steps], last]:
+        for _, part in parts_in(term):
+            if part[0] == "put":
+                found[part[1]] = True
+    return "".join(sorted(found))
+
+
 def need_read(steps, text):
     """Raises BadText unless text is one of the letters that have these steps."""
-    if not isinstance(text, str) or sum([text.count(letter) for letter, _ in steps]) != len(text):
+    if not is_text_of(letters_of(steps), text):
         raise BadText("this is no text of the letters that are read")
 
 

@@ -74,8 +74,14 @@ def _spare_name(taken):
 def normal(term):
     """The normal term to which doing calls leads."""
     need_term(term)
-    _, come = _led(term, _first_path)
+    come = reduced(term)
     _need_row(come)
+    return come
+
+
+def reduced(term):
+    """The normal form of what is built as terms are, whatever its kinds; both may be too great for terms."""
+    _, come = _led(term, _first_path)
     return come
 
 

@@ -229,10 +229,15 @@ def called(kind, table, argument):
     need_function_kind(kind)
     need_table(kind, table)
     need_table(kind[1], argument)
+    return call_table(kind, table, argument)
+
+
+def call_table(kind, one, other):
+    """As called, of what are known to be a kind and tables."""
     wires = Wires()
-    one = wires.lay_table(kind, table)
-    other = wires.lay_table(kind[1], argument)
-    return wires.table_of(kind[2], wires.lay_call(one, kind[1], other))
+    called_one = wires.lay_table(kind, one)
+    handed = wires.lay_table(kind[1], other)
+    return wires.table_of(kind[2], wires.lay_call(called_one, kind[1], handed))
 
 
 def through(kind, one, other):
@@ -240,17 +245,16 @@ def through(kind, one, other):
     need_double_kind(kind)
     need_table(("to", kind, kind), one)
     need_table(("to", kind, kind), other)
-    return put_through(kind, one, other)
+    return put_through(kind, kind, one, other)
 
 
-def put_through(kind, one, other):
-    """As through, of what are known to be a kind and tables."""
-    double = ("to", kind, kind)
+def put_through(kind, result, one, other):
+    """As through, of what are known to be kinds and tables; what one makes of the kind may be of another kind."""
     wires = Wires()
     handed = wires.new_places(kind)
-    inner = wires.lay_call(wires.lay_table(double, other), kind, handed)
-    outer = wires.lay_call(wires.lay_table(double, one), kind, inner)
-    return wires.table_of(double, handed + outer)
+    inner = wires.lay_call(wires.lay_table(("to", kind, kind), other), kind, handed)
+    outer = wires.lay_call(wires.lay_table(("to", kind, result), one), kind, inner)
+    return wires.table_of(("to", kind, result), handed + outer)
 
 
 def bare_tables(kind):

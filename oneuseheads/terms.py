@@ -22,6 +22,11 @@ def is_text(value):
     return isinstance(value, str) and (value == "" or value.isascii() and value.isalpha() and value.islower())
 
 
+def is_text_of(told, value):
+    """Whether value is a text in which no letters stand but those of the text told."""
+    return isinstance(value, str) and sum([value.count(letter) for letter in told]) == len(value)
+
+
 def is_name(value):
     """Whether value is a name."""
     return is_text(value) and 1 <= len(value) <= MOST_NAME and value not in KEPT_WORDS
@@ -29,45 +34,53 @@ def is_name(value):
 
 def is_term(value):
     """Whether value is a term."""
-    return _weighed(value, MOST_ROW) is not None
+    return weighed(value, MOST_ROW, False) is not None
 
 
-def _weighed(value, row):
-    """The number of nodes and the tuple of free names, None if value is no term with at most row nodes in a row."""
+def weighed(value, row, bare):
+    """The number of nodes and the tuple of free names, None if value is no term with at most row nodes in a row.
+
+    A bare one has no put and no end, and its funs tell no kinds.
+    """
     if row == 0 or not isinstance(value, tuple) or len(value) == 0:
         return None
     word = value[0]
-    if word == "end" and len(value) == 1:
-        return 1, ()
     if word == "name" and len(value) == 2 and is_name(value[1]):
         return 1, (value[1],)
-    if word == "put" and len(value) == 3 and is_letter(value[1]):
-        return _one_more(_weighed(value[2], row - 1))
-    if word == "fun" and len(value) == 4 and is_name(value[1]) and is_kind(value[2]):
-        return _bound(value[1], _one_more(_weighed(value[3], row - 1)))
+    if word == "fun" and len(value) > 2 and is_name(value[1]) and _tells_kinds(value[2:-1], bare):
+        return _bound(value[1], _one_more(weighed(value[-1], row - 1, bare)))
     if word == "call" and len(value) == 3:
-        return _weighed_call(value, row)
+        return _weighed_call(value, row, bare)
+    if word == "end" and len(value) == 1 and not bare:
+        return 1, ()
+    if word == "put" and len(value) == 3 and is_letter(value[1]) and not bare:
+        return _one_more(weighed(value[2], row - 1, bare))
     return None
 
 
-def _one_more(weighed):
-    if weighed is None or weighed[0] == MOST_NODES:
+def _tells_kinds(told, bare):
+    """Whether what a fun tells between its name and its body is what it should be: a kind, or nothing."""
+    return told == () if bare else len(told) == 1 and is_kind(told[0])
+
+
+def _one_more(weights):
+    if weights is None or weights[0] == MOST_NODES:
         return None
-    return weighed[0] + 1, weighed[1]
+    return weights[0] + 1, weights[1]
 
 
-def _bound(name, weighed):
-    if weighed is None:
+def _bound(name, weights):
+    if weights is None:
         return None
-    return weighed[0], tuple([other for other in weighed[1] if other != name])
+    return weights[0], tuple([other for other in weights[1] if other != name])
 
 
-def _weighed_call(value, row):
+def _weighed_call(value, row, bare):
     # The second part is looked at only where the first is a term: so nested values that share parts do not take long.
-    one = _weighed(value[1], row - 1)
+    one = weighed(value[1], row - 1, bare)
     if one is None:
         return None
-    other = _weighed(value[2], row - 1)
+    other = weighed(value[2], row - 1, bare)
     if other is None or one[0] + other[0] >= MOST_NODES:
         return None
     if any([name in one[1] for name in other[1]]):

@@ -99,7 +99,7 @@ def stretch(program, text):
 
 def _put_in_pairs(kind, tables):
     """Half as many tables, each of two neighbours: so long words are not written again for each letter."""
-    come = [put_through(kind, tables[at], tables[at + 1]) for at in range(0, len(tables) - 1, 2)]
+    come = [put_through(kind, kind, tables[at], tables[at + 1]) for at in range(0, len(tables) - 1, 2)]
     if len(tables) % 2 == 1:
         come.append(tables[-1])
     return come

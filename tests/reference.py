@@ -375,3 +375,313 @@ def walk(kind, init, steps, last, text):
         else:
             crossings.append((place, goal))
             place, end = place + 1, goal if place == many else k + goal
+
+
+def least_machine(machine):
+    """The least machine by putting states apart until nothing is left to put apart."""
+    _, letters, rows, good = machine
+    met = [0]
+    for state in met:
+        met += [goal for goal in dict.fromkeys(rows[state]) if goal not in met]
+    apart = {state: state in good for state in met}
+    while True:
+        finer = {state: (apart[state], *[apart[goal] for goal in rows[state]]) for state in met}
+        numbers = {told: at for at, told in enumerate(dict.fromkeys(finer.values()))}
+        if len(numbers) == len(set(apart.values())):
+            break
+        apart = {state: numbers[finer[state]] for state in met}
+    order = [apart[0]]
+    one_of = {apart[state]: state for state in met}
+    for told in order:
+        order += [goal for goal in dict.fromkeys(apart[goal] for goal in rows[one_of[told]]) if goal not in order]
+    come = tuple(tuple(order.index(apart[goal]) for goal in rows[one_of[told]]) for told in order)
+    return ("machine", letters, come, tuple(at for at, told in enumerate(order) if one_of[told] in good))
+
+
+def combined(word, one, other):
+    many = len(other[2])
+    rows = tuple(tuple(first * many + second for first, second in zip(ones, others, strict=True))
+                 for ones in one[2] for others in other[2])
+    good = []
+    for first in range(len(one[2])):
+        for second in range(many):
+            told = (first in one[3], second in other[3])
+            if told in {"both": [(True, True)], "first": [(True, False)]}.get(word, [(True, True), (True, False), (False, True)]):
+                good.append(first * many + second)
+    return least_machine(("machine", one[1], rows, tuple(good)))
+
+
+def links_of_program(value):
+    """The links of init, of the steps, and of last, by the normal forms of the terms."""
+    _, kind, init, steps, last = value
+    double = ("to", kind, kind)
+    return (table_by_normal_form(init, kind), [(letter, table_by_normal_form(step, double)) for letter, step in steps],
+            table_by_normal_form(last, ("to", kind, T)))
+
+
+def left_links(kind, steps, last, text):
+    """The left table letter by letter: each from the one ahead of it and the step of one letter more."""
+    k, rows = size(kind), ends_of(kind)
+    table = {end: (tuple((sign, 0) for sign in word), goal) for end, word, goal in last}
+    for place, letter in enumerate(text, start=1):
+        step = {end: (word, goal) for end, word, goal in dict(steps)[letter]}
+        come = {}
+        todo = [k]
+        for end in todo:
+            written, in_old, at = (), end == k, end
+            while True:
+                if in_old:
+                    more, goal = table[at]
+                    written += more
+                    if goal is None:
+                        break
+                    in_old, at = False, k + goal
+                else:
+                    word, goal = step[at]
+                    written += tuple((sign, place) for sign in word)
+                    if goal is None or goal < k:
+                        break
+                    in_old, at = True, goal - k
+            come[end] = (written, goal)
+            if goal is not None:
+                todo += parts_of(rows, goal)
+        table = come
+    return tuple(sorted((end, written, goal) for end, (written, goal) in table.items()))
+
+
+def rows_of(ends):
+    """All rows of unlike ends of any length."""
+    return [()] + [(end,) + row for end in ends for row in rows_of([other for other in ends if other != end])]
+
+
+def joint_standing(ones, others):
+    """The joint standing of two left tables, sign for sign as the document tells it."""
+    told = []
+    for links in (ones, others):
+        told.append((tuple((end, goal) for end, _, goal in links), tuple(end for end, written, _ in links if not written)))
+    words = [{row: sum([written for at in row for end, written, _ in links if end == at], ())
+              for row in rows_of([end for end, _, _ in links])} for links in (ones, others)]
+    by_word = {}
+    for row, word in words[1].items():
+        by_word.setdefault(word, []).append(row)
+    pairs = frozenset((row, other) for row, word in words[0].items() for other in by_word.get(word, []))
+    return (*told, pairs)
+
+
+def first_unlike(one, other):
+    """The text, or None, or ("too many", most)."""
+    tables = [links_of_program(value) for value in (one, other)]
+    met = set()
+    texts = [""]
+    for text in texts:
+        left = [left_links(one[1], tables[0][1], tables[0][2], text), left_links(other[1], tables[1][1], tables[1][2], text)]
+        if max(map(len, left)) > 4:
+            return ("too many", 4)
+        standing = joint_standing(*left)
+        if standing in met:
+            continue
+        met.add(standing)
+        if len(met) > 400:
+            return ("too many", 400)
+        written = [walk(value[1], *told, text)[1] for value, told in zip((one, other), tables)]
+        if written[0] != written[1]:
+            return text
+        texts += [text + letter for letter, _ in one[3]]
+    return None
+
+
+def put_letters(term):
+    """The letters of all puts in a term, ascending."""
+    own = [term[1]] if term[0] == "put" else []
+    return sorted(set(own + [letter for at in inside(term) for letter in put_letters(term[at])]))
+
+
+def letters_put(value):
+    return sorted(set(put_letters(value[2]) + put_letters(value[4]) + [letter for _, step in value[3] for letter in put_letters(step)]))
+
+
+def kind_with(kind, x):
+    return x if kind == T else ("to", kind_with(kind[1], x), kind_with(kind[2], x))
+
+
+def term_with(term, x, u, s):
+    """The term with texts exchanged for the kind x, u and, for each letter, s of it."""
+    if term[0] == "end":
+        return u
+    if term[0] == "put":
+        return ("call", s(term[1]), term_with(term[2], x, u, s))
+    if term[0] == "fun":
+        return ("fun", term[1], kind_with(term[2], x), term_with(term[3], x, u, s))
+    if term[0] == "call":
+        return ("call", term_with(term[1], x, u, s), term_with(term[2], x, u, s))
+    return term
+
+
+def is_program(value):
+    """Whether what is built as programs are is one: all kinds, nodes and rows small enough."""
+    _, kind, init, steps, last = value
+    if not is_kind(kind) or 2 * size(kind) > 60:
+        return False
+    told = [(kind, init), (("to", kind, T), last)] + [(("to", kind, kind), step) for _, step in steps]
+    return all(fits(term) and is_term(term) and kind_of(term, {}) == wanted for wanted, term in told)
+
+
+def fits(term):
+    """Whether a term has few enough nodes, found with few steps."""
+    pending, many = [term], 0
+    while pending and many <= 400:
+        part_of = pending.pop()
+        many += 1
+        pending += [part_of[at] for at in inside(part_of)]
+    return many <= 400
+
+
+Y = ("to", T, T)
+UNIT = ("fun", "y", T, ("name", "y"))
+
+
+def behind(first, second):
+    _, x, u, told, last2 = second
+    s = dict(told).get
+    _, k, init, steps, last = first
+    k2 = kind_with(k, x)
+    inner = ("call", term_with(last, x, u, s), ("name", "z"))
+    return ("program", k2, term_with(init, x, u, s), tuple((a, term_with(step, x, u, s)) for a, step in steps),
+            ("fun", "z", k2, ("call", last2, inner)))
+
+
+def turned_in(value):
+    _, k, init, steps, last = value
+    k2 = ("to", k, k)
+
+    def turned(step):
+        return ("fun", "f", k2, ("fun", "x", k, ("call", ("name", "f"), ("call", step, ("name", "x")))))
+
+    return ("program", k2, ("fun", "x", k, ("name", "x")), tuple((a, turned(step)) for a, step in steps),
+            ("fun", "f", k2, ("call", last, ("call", ("name", "f"), init))))
+
+
+def turned_out(value):
+    def s(b):
+        return ("fun", "g", Y, ("fun", "y", T, ("call", ("name", "g"), ("put", b, ("name", "y")))))
+
+    _, k, init, steps, last = value
+    k2 = kind_with(k, Y)
+    ended = ("call", ("call", term_with(last, Y, UNIT, s), ("name", "z")), ("end",))
+    return ("program", k2, term_with(init, Y, UNIT, s), tuple((a, term_with(step, Y, UNIT, s)) for a, step in steps),
+            ("fun", "z", k2, ended))
+
+
+def both(one, other):
+    def s(b):
+        return ("fun", "g", Y, ("fun", "y", T, ("put", b, ("call", ("name", "g"), ("name", "y")))))
+
+    def ex(term):
+        return term_with(term, Y, UNIT, s)
+
+    a, b = kind_with(one[1], Y), other[1]
+    c = ("to", a, ("to", b, T))
+    k2 = ("to", c, T)
+    init = ("fun", "k", c, ("call", ("call", ("name", "k"), ex(one[2])), other[2]))
+    steps = []
+    for (letter, step), (_, step2) in zip(one[3], other[3], strict=True):
+        led = ("call", ("call", ("name", "k"), ("call", ex(step), ("name", "a"))), ("call", step2, ("name", "b")))
+        inner = ("fun", "a", a, ("fun", "b", b, led))
+        steps.append((letter, ("fun", "p", k2, ("fun", "k", c, ("call", ("name", "p"), inner)))))
+    told = ("call", ("call", ex(one[4]), ("name", "a")), ("call", other[4], ("name", "b")))
+    last = ("fun", "p", k2, ("call", ("name", "p"), ("fun", "a", a, ("fun", "b", b, told))))
+    return ("program", k2, init, tuple(steps), last)
+
+
+def with_words(term, words):
+    if term[0] == "put":
+        come = with_words(term[2], words)
+        for letter in words.get(term[1], term[1])[::-1]:
+            come = ("put", letter, come)
+        return come
+    return tuple(with_words(item, words) if at in inside(term) else item for at, item in enumerate(term))
+
+
+def relettered(value, words):
+    _, k, init, steps, last = value
+    words = dict(words)
+    return ("program", k, with_words(init, words), tuple((a, with_words(step, words)) for a, step in steps), with_words(last, words))
+
+
+def read_as(value, words):
+    _, k, init, steps, last = value
+    come = []
+    for letter, word in words:
+        body = ("name", "z")
+        for sign in word[::-1]:
+            body = ("call", dict(steps)[sign], body)
+        come.append((letter, ("fun", "z", k, body)))
+    return ("program", k, init, tuple(come), last)
+
+
+def is_box_machine(value):
+    """Whether value is a box machine, by the words of the document."""
+    if type(value) is not tuple or len(value) != 4 or type(value[0]) is not str or value[0] != "boxes":
+        return False
+    _, letters, begun, rows = value
+    if type(letters) is not str or not letters or any(sign not in LETTERS for sign in letters):
+        return False
+    if list(letters) != sorted(set(letters)) or type(begun) is not tuple or type(rows) is not tuple:
+        return False
+    if any(type(text) is not str or any(sign not in LETTERS for sign in text) for text in begun) or not 1 <= len(rows) <= 400:
+        return False
+    for row in rows:
+        if type(row) is not tuple or len(row) != 3 or type(row[0]) is not int or not 0 <= row[0] <= 60:
+            return False
+    if rows[0][0] != len(begun):
+        return False
+
+    def pieces_are_right(many, fills):
+        if any(type(fill) is not tuple for fill in fills):
+            return False
+        used = [piece for fill in fills for piece in fill if not (type(piece) is str and len(piece) == 1 and piece in LETTERS)]
+        return all(type(piece) is int and 0 <= piece < many for piece in used) and len(used) == len(set(used))
+
+    for many, moves, out in rows:
+        if type(moves) is not tuple or len(moves) != len(letters) or not pieces_are_right(many, (out,)):
+            return False
+        for move in moves:
+            if type(move) is not tuple or len(move) != 2 or type(move[0]) is not int or not 0 <= move[0] < len(rows):
+                return False
+            if type(move[1]) is not tuple or len(move[1]) != rows[move[0]][0] or not pieces_are_right(many, move[1]):
+                return False
+    return True
+
+
+def box_contents(boxes, text):
+    _, letters, begun, rows = boxes
+    row, held = 0, list(begun)
+    for letter in text:
+        goal, fills = rows[row][1][letters.index(letter)]
+        held = [put_together(fill, held) for fill in fills]
+        row = goal
+    return row, held
+
+
+def put_together(pieces, held):
+    return "".join(piece if isinstance(piece, str) else held[piece] for piece in pieces)
+
+
+def fronts(value, most=1000):
+    """The shapes of fronts, numbered as a walk first meets them, each with the first text that has it."""
+    _, steps, last = links_of_program(value)
+    letters = [letter for letter, _ in steps]
+
+    def shape(text):
+        return tuple((end, goal) for end, _, goal in left_links(value[1], steps, last, text))
+
+    numbers = {shape(""): 0}
+    texts = [""]
+    for text in texts:
+        for letter in letters:
+            if shape(text + letter) not in numbers:
+                numbers[shape(text + letter)] = len(texts)
+                texts.append(text + letter)
+        if len(texts) > most:
+            break
+    return numbers, texts

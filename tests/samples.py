@@ -188,10 +188,10 @@ def _made_from_name(numbers, kind, names, fuel):
     return None
 
 
-def made_program(numbers, most_ends=4, fuel=5):
+def made_program(numbers, most_ends=4, fuel=5, letters=None):
     """A program."""
     kind = made_kind(numbers, 1 + numbers.below(most_ends))
-    letters = numbers.one_of(["a", "ab", "bz", "abc", "aeio"])
+    letters = letters or numbers.one_of(["a", "ab", "bz", "abc", "aeio"])
     return ("program", kind, made_term(numbers, kind, [], fuel),
             tuple((letter, made_term(numbers, to(kind, kind), [], fuel)) for letter in letters),
             made_term(numbers, to(kind, T), [], fuel))

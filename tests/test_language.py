@@ -22,9 +22,28 @@ INTERFACE = {
     "walks": ["run(program, text)", "walk(program, text)", "crossed(program, text, boundary)", "stretch(program, text)",
               "Token(program, text)"],
     "heads": ["is_head(value)", "head_of(program)", "led(head, text)", "program_of(head)"],
+    "alike": ["left_links(program, text)", "first_unlike(one, other)", "alike(one, other)", "origins(program, text)"],
+    "languages": ["is_machine(value)", "lets(machine, text)", "led_on(machine, text)", "least_machine(machine)",
+                  "contrary(machine)", "combined(word, one, other)", "first_text(machine)", "texts_of_length(machine, length)"],
+    "boxes": ["is_boxes(value)", "box_contents(boxes, text)", "box_text(boxes, text)", "boxed(program)"],
+    "joining": ["behind(first, second)", "turned_in(program)", "turned_out(program)", "both(one, other)",
+                "relettered(program, words)", "read_as(program, words)"],
+    "alltexts": ["row_basis(one, other)", "first_apart(one, other)", "writes_same(one, other)"],
+    "bare": ["is_bare(value)", "bared(term)", "bare_normal(bare)"],
+    "counting": ["counts(program, text)", "counts_parted(one, other)", "counts_alike(one, other)"],
+    "bounds": ["least_written(program, letter)", "most_written(program, letter)", "text_with(program, letter, many)",
+               "never_written(program)", "always_written(program)", "bounded_letters(program)"],
+    "held": ["Held(program, text)"],
 }
-METHODS = {("walks", "Token"): ["is_over(self)", "step(self)", "back(self)", "written(self)", "crossings(self)"]}
+METHODS = {
+    ("walks", "Token"): ["is_over(self)", "step(self)", "back(self)", "written(self)", "crossings(self)"],
+    ("held", "Held"): ["letters(self)", "length(self)", "size(self)", "made(self)", "put_in(self, at, more)",
+                       "take_out(self, at, many)", "exchange(self, at, letter)", "copy(self)", "written(self)",
+                       "piece(self, begin, end)", "origin(self, spot)", "spots(self, place)", "unread(self)",
+                       "cuts(self, at)", "ahead(self, at)", "behind(self, at)"],
+}
 SIZED = (ast.FunctionDef, ast.ClassDef)
+LIBRARY = {"math": ["gcd", "lcm", "isqrt"], "itertools": ["product", "combinations", "permutations"]}
 
 
 def files():
@@ -82,7 +101,12 @@ class Language(unittest.TestCase):
         for name, tree in trees():
             for node in ast.walk(tree):
                 self.assertNotIsInstance(node, ast.Import, name)
-                if isinstance(node, ast.ImportFrom):
+                if isinstance(node, ast.ImportFrom) and node.module in LIBRARY:
+                    self.assertIn(node, tree.body, name)
+                    told = [alias.name for alias in node.names if alias.asname is None]
+                    self.assertEqual([one for one in told if one not in LIBRARY[node.module]], [], name)
+                    self.assertEqual(len(told), len(node.names), name)
+                elif isinstance(node, ast.ImportFrom):
                     self.assertTrue(node in tree.body and node.module.startswith("oneuseheads."), (name, node.module))
                     defined = {told for told in self.bound_above(dict(trees())[node.module.partition(".")[2] + ".py"])}
                     self.assertTrue(all(alias.name in defined and alias.asname is None for alias in node.names), name)

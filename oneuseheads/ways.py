@@ -1,0 +1,134 @@
+"""All texts as the ways in one finite graph: what is written at a place hangs on what is ahead of it and behind it.
+
+A knot is a front and a rear, without words; a way from knot to knot reads a letter. A rear is a dict from the asked
+ends of the program's kind to the goals, for what is behind a boundary.
+"""
+
+from oneuseheads.ends import end_rows
+from oneuseheads.errors import TooMany
+from oneuseheads.fronts import rows_of_fronts, shape_of_front, step_of_init
+from oneuseheads.tables import by_end
+from oneuseheads.walks import with_tables
+
+MOST_TABLES = 60
+BEGIN = 0
+FINISH = 1
+
+
+def ways_of(program):
+    """The list, knot by knot, of the lists of ways from there: triples of the knot to which a way leads, the letter
+    that is read, and the letters that are written at its place.
+
+    The ways from knot BEGIN to knot FINISH are the texts; the first and the last step of each read no letter. Each
+    knot is on such a way.
+    """
+    head = with_tables(program)
+    many = len(end_rows(head[1]))
+    fronts = rows_of_fronts(head, MOST_TABLES)
+    rears, leads = _rears(head)
+    knots = [[] for _ in range(2 + len(fronts) * len(rears))]
+    last = by_end(head[4])
+    for right, rear in enumerate(rears):
+        # The last term is asked as a step is asked if all that is ahead goes to its result.
+        knots[BEGIN].append((2 + right, "", written_between(many, {many: 0}, last, rear)))
+    init = step_of_init(many, head[2])
+    for left, row in enumerate(fronts):
+        knots[2 + left * len(rears)].append((FINISH, "", written_between(many, row.front, init, {})))
+        for (letter, links), (goal, _), lead in zip(head[3], row.moves, leads):
+            step = by_end(links)
+            for right, rear in enumerate(rears):
+                word = written_between(many, row.front, step, rear)
+                knots[2 + left * len(rears) + lead[right]].append((2 + goal * len(rears) + right, letter, word))
+    return knots
+
+
+def _rears(head):
+    """The list of the rears of all texts, that of the empty one first, and letter by letter the list of the numbers
+    of the rears to which each rear leads if the letter is put ahead of it."""
+    rows = end_rows(head[1])
+    steps = [by_end(links) for _, links in head[3]]
+    found = [{end: goal for end, _, goal in head[2]}]
+    numbers = {shape_of_front(found[0]): 0}
+    leads = [[] for _ in steps]
+    at = 0
+    while at < len(found):
+        for step, lead in zip(steps, leads):
+            rear = _led_rear(rows, found[at], step)
+            shape = shape_of_front(rear)
+            if shape not in numbers:
+                numbers[shape] = len(found)
+                found.append(rear)
+                if len(found) > MOST_TABLES:
+                    raise TooMany(MOST_TABLES)
+            lead.append(numbers[shape])
+        at += 1
+    return found, leads
+
+
+def _led_rear(rows, rear, step):
+    many = len(rows)
+    come = {}
+    pending = [many - 1]
+    while pending:
+        end = pending.pop()
+        goal = step[many + end][1]
+        while goal is not None and goal < many:
+            back = rear[goal]
+            goal = None if back is None else step[back][1]
+        come[end] = None if goal is None else goal - many
+        if goal is not None:
+            pending.extend(rows[goal - many][1])
+    return come
+
+
+def written_between(many, front, step, rear):
+    """The letters that a step writes between a front and a rear, for a kind with many ends."""
+    words = []
+    asked = front[many]
+    while asked is not None:
+        word, goal = step[many + asked]
+        words.append(word)
+        while goal is not None and goal < many:
+            back = rear[goal]
+            word, goal = ("", None) if back is None else step[back]
+            words.append(word)
+        asked = None if goal is None else front[goal - many]
+    return "".join(words)
+
+
+def components(knots):
+    """A list of numbers, one for each knot: two have the same one just if ways lead from each to the other."""
+    against = [[] for _ in knots]
+    for knot, ways in enumerate(knots):
+        for goal, _, _ in ways:
+            against[goal].append(knot)
+    numbers = {}
+    for first in reversed(_left_behind(knots)):
+        if first not in numbers:
+            numbers[first] = first
+            pending = [first]
+            while pending:
+                for knot in against[pending.pop()]:
+                    if knot not in numbers:
+                        numbers[knot] = first
+                        pending.append(knot)
+    return [numbers[knot] for knot in range(len(knots))]
+
+
+def _left_behind(knots):
+    """The knots in the order in which a search in depth, from BEGIN on, leaves them for good."""
+    order = []
+    looked = [0] * len(knots)
+    met = {BEGIN: True}
+    trail = [BEGIN]
+    while trail:
+        knot = trail[-1]
+        if looked[knot] == len(knots[knot]):
+            order.append(trail.pop())
+        else:
+            goal = knots[knot][looked[knot]][0]
+            looked[knot] += 1
+            if goal not in met:
+                met[goal] = True
+                trail.append(goal)
+    return order
