@@ -3,7 +3,7 @@
 from oneuseheads.boxes import boxed
 from oneuseheads.errors import TooMany
 from oneuseheads.programs import letters_of, may_write, need_pair
-from oneuseheads.sums import EXPONENTS, Span
+from oneuseheads.sums import PRIME, Span
 
 MOST_PLACES = 4000
 
@@ -34,29 +34,20 @@ def _searched(one, other, to_apart):
     for boxes in machines:
         if _count_places(boxes) > MOST_PLACES:
             raise TooMany(MOST_PLACES)
-    letters = "".join(sorted(set(may_write(one) + may_write(other))))
-    first, second = [_count_places(boxes) for boxes in machines]
-    readers = (Reader(machines[0], letters, 0), Reader(machines[1], letters, first))
-    found = None
-    # The first primes will nearly always do.
-    for exponent in EXPONENTS:
-        if found is None:
-            found = _basis(readers, letters_of(one[3]), Span(exponent, first + second), to_apart)
-    return found
+    written = "".join(sorted(set(may_write(one) + may_write(other))))
+    readers = (Reader(machines[0], written, 0), Reader(machines[1], written, _count_places(machines[0])))
+    return _basis(readers, letters_of(one[3]), to_apart)
 
 
-def _basis(readers, letters, span, to_apart):
-    """As _searched; None if the span cannot tell of some row whether it is a sum."""
+def _basis(readers, letters, to_apart):
+    span = Span()
     found = []
     pending = [("", [reader.begun() for reader in readers])]
     at = 0
     while at < len(pending):
         text, standings = pending[at]
         at += 1
-        is_new = span.add([reader.numbers(standing) for reader, standing in zip(readers, standings)])
-        if is_new is None:
-            return None
-        if is_new:
+        if span.add([reader.numbers(standing) for reader, standing in zip(readers, standings)]):
             one, other = [reader.worth(standing) for reader, standing in zip(readers, standings)]
             found.append((text, one == other))
             if to_apart and one != other:
@@ -122,9 +113,10 @@ class Reader:
         return power, worth
 
     def numbers(self, standing):
-        """The place at which the numbers of this row begin, and their list."""
+        """The place at which the numbers of this row begin, and the list of what they leave, as a span wants it."""
         row, held = standing
         found = [1]
         for power, worth in held:
-            found = [number * factor for number in found for factor in (1, power, worth)]
+            factors = (1, power % PRIME, worth % PRIME)
+            found = [number * factor % PRIME for number in found for factor in factors]
         return self._starts[row], found

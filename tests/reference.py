@@ -1,5 +1,6 @@
 """What the document tells, written a second time, as plainly as it goes and without the package."""
 
+from fractions import Fraction
 from itertools import count
 
 KEPT = ["call", "end", "fun", "name", "put", "text", "to"]
@@ -685,3 +686,57 @@ def fronts(value, most=1000):
         if len(texts) > most:
             break
     return numbers, texts
+
+
+def row_of_numbers(boxes, text, base, digits):
+    """The row of numbers of a text for a program with this box machine, as a dict from places."""
+    row, held = box_contents(boxes, text)
+    told = {(): 1}
+    for word in held:
+        worth = 0
+        for letter in word:
+            worth = worth * base + digits[letter]
+        told = {way + (choice,): number * factor for way, number in told.items()
+                for choice, factor in enumerate((1, base ** len(word), worth))}
+    return {(row, way): number for way, number in told.items()}
+
+
+class Fractions:
+    """Rows, as dicts from places, of which none is a sum of multiples of the others: by fractions, and exactly."""
+
+    def __init__(self):
+        self.rows = []
+
+    def adds(self, row):
+        rest = {place: Fraction(number) for place, number in row.items() if number}
+        for place, other in self.rows:
+            if rest.get(place, 0):
+                times = rest[place]
+                for key, number in other.items():
+                    rest[key] = rest.get(key, 0) - times * number
+        rest = {key: number for key, number in rest.items() if number}
+        if not rest:
+            return False
+        place = min(rest)
+        self.rows.append((place, {key: number / rest[place] for key, number in rest.items()}))
+        return True
+
+
+def row_basis(one, other, one_boxes, other_boxes, whole=False):
+    """All texts by length whose rows are no sums; whole: not only those that come behind a text that is none."""
+    put = sorted(set(letters_put(one) + letters_put(other)))
+    digits = {letter: at + 1 for at, letter in enumerate(put)}
+    letters = [letter for letter, _ in one[3]]
+    found, fractions, level = [], Fractions(), [""]
+    while level:
+        news = []
+        for text in level:
+            row = {}
+            for which, boxes in enumerate((one_boxes, other_boxes)):
+                for place, number in row_of_numbers(boxes, text, len(put) + 1, digits).items():
+                    row[(which, *place)] = number
+            if fractions.adds(row):
+                news.append(text)
+        found += news
+        level = [text + letter for text in (level if whole and news else news) for letter in letters]
+    return found

@@ -228,7 +228,7 @@ def led_round(sizes, forgets=False, at_once=False, own=""):
     """
     kinds = [texts_to(size) for size in sizes]
     kind = to(*kinds, T)
-    names = [letter + "f" for letter in "pqr"[:len(sizes)]]
+    names = [letter + "f" for letter in "pqrstu"[:len(sizes)]]
 
     def funs(size, inner):
         for at in reversed(range(size)):
