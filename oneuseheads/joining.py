@@ -8,8 +8,8 @@ from oneuseheads.terms import INSIDE, MOST_NODES, is_letter, is_text, is_text_of
 
 MOST_WORDS = 26
 MOST_LENGTH = 20
-TURNING = ("to", TEXT, TEXT)
-NOTHING = ("fun", "y", TEXT, ("name", "y"))
+TURNING = ("to", ("text",), ("text",))
+NOTHING = ("fun", "y", ("text",), ("name", "y"))
 
 
 def _needed(program):

@@ -23,7 +23,8 @@ def _states_met(rows, first):
     order = [first]
     at = 0
     while at < len(order):
-        for goal in rows[order[at]]:
+        state = order[at]
+        for goal in rows[state]:
             if goal not in met:
                 met[goal] = True
                 order.append(goal)

@@ -108,7 +108,8 @@ def components(knots):
             numbers[first] = first
             pending = [first]
             while pending:
-                for knot in against[pending.pop()]:
+                here = pending.pop()
+                for knot in against[here]:
                     if knot not in numbers:
                         numbers[knot] = first
                         pending.append(knot)
