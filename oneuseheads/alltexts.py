@@ -35,7 +35,10 @@ def _searched(one, other, to_apart):
         if _count_places(boxes) > MOST_PLACES:
             raise TooMany(MOST_PLACES)
     written = "".join(sorted(set(may_write(one) + may_write(other))))
-    readers = (Reader(machines[0], written, 0), Reader(machines[1], written, _count_places(machines[0])))
+    readers = [Reader(machines[0], written, 0)]
+    # Numbers that stand there twice tell no more than once.
+    if machines[0] != machines[1]:
+        readers.append(Reader(machines[1], written, _count_places(machines[0])))
     return _basis(readers, letters_of(one[3]), to_apart)
 
 
@@ -48,9 +51,9 @@ def _basis(readers, letters, to_apart):
         text, standings = pending[at]
         at += 1
         if span.add([reader.numbers(standing) for reader, standing in zip(readers, standings)]):
-            one, other = [reader.worth(standing) for reader, standing in zip(readers, standings)]
-            found.append((text, one == other))
-            if to_apart and one != other:
+            worths = [reader.worth(standing) for reader, standing in zip(readers, standings)]
+            found.append((text, worths[0] == worths[-1]))
+            if to_apart and worths[0] != worths[-1]:
                 return found
             # Behind a sum of multiples there are only sums of multiples, so nothing is read on there.
             for number, letter in enumerate(letters):

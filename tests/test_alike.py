@@ -7,11 +7,11 @@ import reference
 from oneuseheads.alike import alike, first_unlike, left_links, origins
 from oneuseheads.errors import BadProgram, BadText, OtherLetters, TooMany
 from oneuseheads.heads import head_of, program_of
-from oneuseheads.programs import is_program, letters
+from oneuseheads.programs import letters
 from oneuseheads.tables import table
 from oneuseheads.walks import run, walk
-from samples import DOUBLED, DROPPING, END, FORGETTING, IDENTITY, Numbers, PROGRAMS, T, THERE_AND_BACK, TT, TURNED
-from samples import call, fun, made_kind, made_program, made_term, n, put, refused, term_of_nodes, texts_to, to
+from samples import DOUBLED, DROPPING, END, FORGETTING, IDENTITY, Numbers, T, THERE_AND_BACK, TT, TURNED, call, fun
+from samples import made_program, made_term, n, put, refused, texts_to, to
 from test_programs import BAD_PROGRAMS, great_program, right_program
 from test_walks import BAD_TEXTS, passing_program, programs, texts
 

@@ -2,7 +2,6 @@
 
 import time
 import unittest
-from itertools import product
 
 import reference
 from oneuseheads.alltexts import first_apart, row_basis, writes_same

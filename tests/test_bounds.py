@@ -9,7 +9,7 @@ from oneuseheads.heads import head_of, program_of
 from oneuseheads.joining import both, turned_in
 from oneuseheads.programs import is_program, letters
 from oneuseheads.walks import run
-from samples import DOUBLED, DROPPING, END, FORGETTING, IDENTITY, PROGRAMS, T, THERE_AND_BACK, TURNED, call, copied, fun
+from samples import DOUBLED, DROPPING, END, FORGETTING, IDENTITY, PROGRAMS, T, TURNED, call, copied, fun
 from samples import n, odd_values, put, refused, texts_to, to
 from test_alike import all_texts
 from test_alltexts import round_of_words, words_led
@@ -24,9 +24,24 @@ BAD_LETTERS = [*[value for value in odd_values() if value not in ("a", "x")], "a
 def bounds_programs():
     found = [*programs(70, 6), led_round([3, 4], True), led_round([2, 3, 2]), round_of_words(["a", "bb", "ca", ""]),
              round_of_words(["ab", "", "abab"], "ab"), passing_program(28, "b"), words_led(2, [("a", "p", [(1, "q"), (0, "")])])]
+    found.extend([now_and_then(3), now_and_then(5)])
     # Each step writes, and forgets what was written ahead of it.
     found.append(words_led(2, [("a", "", [(1, "p"), (None, "")]), ("b", "", [(None, "q"), (0, "p")])], 0, ["r", "rr"]))
     return found
+
+
+def now_and_then(many):
+    """A program that writes a p for each so many letters: it leads a function of so many texts round."""
+    inner = texts_to(many)
+    kind = to(inner, T)
+    names = ["x" + ALL[at] for at in range(many)]
+    led = call(n("g"), put("p", n(names[1])), *[n(names[at % many]) for at in range(2, many + 1)])
+    last = n(names[0])
+    for name in reversed(names):
+        led, last = fun(name, T, led), fun(name, T, last)
+    step = fun("f", kind, fun("g", inner, call(n("f"), led)))
+    init = fun("g", inner, call(n("g"), *[END] * many))
+    return ("program", kind, init, (("a", step),), fun("f", kind, call(n("f"), last)))
 
 
 def written_on_texts(value, most, known={}):
@@ -122,6 +137,16 @@ class LeastAndMost(unittest.TestCase):
         self.assertEqual(most_written(value, "p")[0], 26)
         self.assertEqual(least_written(value, "p")[0], 0)
         self.assertEqual([run(value, "a" * many).count("p") for many in (0, 1, 25, 26, 27, 60)], [0, 1, 25, 26, 26, 26])
+
+    def test_few_steps_of_a_round_write(self):
+        for many in (3, 4, 7):
+            value = now_and_then(many)
+            self.assertEqual([run(value, "a" * length) for length in range(1, 2 * many + 1)],
+                             ["p"] * many + ["pp"] * many)
+            self.assertIsNone(most_written(value, "p"))
+            self.assertEqual(least_written(value, "p"), (0, ""))
+            self.assertGreaterEqual(run(value, text_with(value, "p", 60)).count("p"), 60)
+            self.assertEqual(bounded_letters(value), without("p"))
 
     def test_other_terms_for_the_same(self):
         for value in programs(30, 4):

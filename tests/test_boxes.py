@@ -8,7 +8,7 @@ from oneuseheads.boxes import box_contents, box_text, boxed, is_boxes
 from oneuseheads.errors import BadBoxes, BadProgram, BadText, TooMany
 from oneuseheads.programs import is_program, letters
 from oneuseheads.walks import run
-from samples import DOUBLED, DROPPING, END, FORGETTING, Numbers, PROGRAMS, T, THERE_AND_BACK, TURNED, call, copied, fun
+from samples import DOUBLED, DROPPING, END, FORGETTING, Numbers, T, THERE_AND_BACK, TURNED, call, copied, fun
 from samples import made_text, n, odd_values, put, refused, spoiled, texts_to, to
 from test_programs import BAD_PROGRAMS, great_program
 from test_walks import passing_program, programs, texts

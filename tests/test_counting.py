@@ -9,8 +9,7 @@ from oneuseheads.heads import head_of, program_of
 from oneuseheads.joining import both, turned_in, turned_out
 from oneuseheads.programs import letters
 from oneuseheads.walks import walk
-from samples import DOUBLED, DROPPING, END, FORGETTING, IDENTITY, PROGRAMS, T, THERE_AND_BACK, TURNED, call, copied, fun
-from samples import n, put, refused, to
+from samples import DOUBLED, DROPPING, END, IDENTITY, PROGRAMS, T, THERE_AND_BACK, TURNED, copied, fun, n, put, refused
 from test_alike import all_texts, pairs
 from test_alltexts import round_of_words, words_led
 from test_boxes import led_round

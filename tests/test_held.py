@@ -251,7 +251,7 @@ class Edited(unittest.TestCase):
                   (held.put_in, (4, "c"), BadNumber), (held.take_out, (4, 0), BadNumber), (held.take_out, (0, 4), BadNumber),
                   (held.take_out, (2, 2), BadNumber), (held.take_out, (0, -1), BadNumber), (held.exchange, (3, "a"), BadNumber),
                   (held.exchange, (0, "c"), BadText), (held.exchange, (0, ""), BadText), (held.exchange, (0, "ab"), BadText),
-                  (held.piece, (5, 5), BadNumber), (held.piece, (2, 1), BadNumber), (held.piece, (0, 5), BadNumber),
+                  (held.piece, (4, 4), BadNumber), (held.piece, (2, 1), BadNumber), (held.piece, (0, 4), BadNumber),
                   (held.origin, (3,), BadNumber), (held.spots, (5,), BadNumber), (held.cuts, (4,), BadNumber),
                   (held.ahead, (4,), BadNumber), (held.behind, (4,), BadNumber)]
         self.assertEqual(held.written(), "zba")
@@ -267,12 +267,13 @@ class Edited(unittest.TestCase):
         held = Held(TURNED, "ab")
         for value in ODD_NUMBERS:
             for method, values in [(held.put_in, (value, "c")), (held.take_out, (value, -1)), (held.take_out, (0, value)),
-                                   (held.exchange, (value, "c")), (held.piece, (value, -1)), (held.piece, (0, value)),
+                                   (held.exchange, (value, "c")), (held.piece, (value, -1)), (held.piece, (value, 2)), (held.piece, (0, value)),
                                    (held.origin, (value,)), (held.spots, (value,)), (held.cuts, (value,)), (held.ahead, (value,)),
                                    (held.behind, (value,))]:
                 with self.assertRaises(ValueError) as found:
                     method(*values)
                 self.assertIs(type(found.exception), BadNumber, (method, value))
+        self.assertEqual((held.piece(2, 2), held.piece(0, 0), held.piece(0, 2)), ("", "", "ba"))
         for value in [*BAD_TEXTS, "c", "abc"]:
             for method in (held.put_in, held.exchange):
                 with self.assertRaises(ValueError) as found:

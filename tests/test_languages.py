@@ -6,7 +6,7 @@ from itertools import product
 import reference
 from oneuseheads.errors import BadMachine, BadNumber, BadText, BadWord, OtherLetters, TooMany
 from oneuseheads.languages import combined, contrary, first_text, is_machine, least_machine, led_on, lets, texts_of_length
-from samples import Numbers, TURNED, made_text, odd_values, refused, spoiled
+from samples import Numbers, TURNED, odd_values, refused, spoiled
 
 ALL = "abcdefghijklmnopqrstuvwxyz"
 EVEN = ("machine", "ab", ((1, 0), (0, 1)), (0,))
