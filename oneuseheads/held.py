@@ -47,7 +47,7 @@ class Held:
 
     def made(self):
         """How many tables were made so far."""
-        return self._roper.made
+        return self._roper.tables_made
 
     def put_in(self, at, more):
         """Puts more behind the first at letters."""

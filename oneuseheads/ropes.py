@@ -38,7 +38,7 @@ class Roper:
         _, self._kind, self._init, steps, self._last = head
         self._leaves = {letter: Leaf(links) for letter, links in steps}
         self.many = count_ends(self._kind)
-        self.made = len(steps) + 2
+        self.tables_made = len(steps) + 2
 
     def rope_of(self, text):
         """The rope of a text."""
@@ -48,7 +48,7 @@ class Roper:
         return self._knot(self.rope_of(text[:middle]), self.rope_of(text[middle:]))
 
     def _knot(self, left, right):
-        self.made += 1
+        self.tables_made += 1
         return Knot(left, right, put_through(self._kind, self._kind, left.links, right.links))
 
     def joined(self, left, right):
@@ -99,7 +99,7 @@ class Roper:
         """The table of the last term called with what the first at letters make of what it is handed."""
         found = self._last
         for part in _parts_ahead(rope, at):
-            self.made += 1
+            self.tables_made += 1
             found = put_through(self._kind, TEXT, found, part.links)
         return found
 
@@ -107,13 +107,13 @@ class Roper:
         """The table of what the letters behind the first at ones make of init."""
         found = self._init
         for part in reversed(_parts_behind(rope, at)):
-            self.made += 1
+            self.tables_made += 1
             found = call_table(("to", self._kind, self._kind), part.links, found)
         return found
 
     def written(self, rope):
         """What is written on the whole text."""
-        self.made += 1
+        self.tables_made += 1
         links = call_table(("to", self._kind, TEXT), self._last, self.behind(rope, 0))
         return links[0][1]
 
