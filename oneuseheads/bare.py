@@ -4,7 +4,7 @@ from oneuseheads.errors import BadBare, BadTerm
 from oneuseheads.kinds import TEXT
 from oneuseheads.plain import name_in_row
 from oneuseheads.reducing import reduced
-from oneuseheads.terms import MOST_ROW, need_term, parts_in, weighed
+from oneuseheads.terms import INSIDE, MOST_ROW, need_term, parts_in, weighed
 
 
 def is_bare(value):
@@ -58,12 +58,14 @@ def _named_in_order(term):
     # The term may have more nodes in a row than a term, so its parts are put together from the innermost ones on.
     come = {}
     for path, part in reversed(parts):
+        paths_inside = [(*path, index) for index in INSIDE[part[0]]]
+        inside = [come[inner] for inner in paths_inside]
         if part[0] == "name":
             come[path] = ("name", _name_at(path, part[1], bound))
         elif part[0] == "fun":
-            come[path] = ("fun", bound[path][1], come[(*path, 3)])
+            come[path] = ("fun", bound[path][1], *inside)
         else:
-            come[path] = ("call", come[(*path, 1)], come[(*path, 2)])
+            come[path] = ("call", *inside)
     return come[()]
 
 

@@ -141,7 +141,7 @@ class Language(unittest.TestCase):
                 self.assertIsInstance(node, (ast.ImportFrom, ast.Assign, *SIZED), name)
             self.assertIsNotNone(ast.get_docstring(tree), name)
             for node in ast.walk(tree):
-                self.assertNotIsInstance(node, (ast.Global, ast.Div, ast.SetComp, ast.Set, ast.AnnAssign, ast.Try), name)
+                self.assertNotIsInstance(node, (ast.Global, ast.Div, ast.SetComp, ast.Set, ast.AnnAssign), name)
 
 
 if __name__ == "__main__":
