@@ -2,8 +2,8 @@
 
 from oneuseheads.boxes import boxed
 from oneuseheads.errors import TooMany
-from oneuseheads.programs import letters_of, may_write, need_pair
-from oneuseheads.sums import PRIME, Span
+from oneuseheads.programs import may_write, need_pair
+from oneuseheads.sums import Span
 
 MOST_PLACES = 4000
 
@@ -35,28 +35,27 @@ def _searched(one, other, to_apart):
         if _count_places(boxes) > MOST_PLACES:
             raise TooMany(MOST_PLACES)
     written = "".join(sorted(set(may_write(one) + may_write(other))))
-    readers = [Reader(machines[0], written, 0)]
     # Numbers that stand there twice tell no more than once.
-    if machines[0] != machines[1]:
-        readers.append(Reader(machines[1], written, _count_places(machines[0])))
-    return _basis(readers, letters_of(one[3]), to_apart)
+    if machines[0] == machines[1]:
+        machines = machines[:1]
+    return _basis([Reader(boxes, written) for boxes in machines], Shelves(machines), to_apart)
 
 
-def _basis(readers, letters, to_apart):
-    span = Span()
+def _basis(readers, shelves, to_apart):
     found = []
     pending = [("", [reader.begun() for reader in readers])]
     at = 0
     while at < len(pending):
         text, standings = pending[at]
         at += 1
-        if span.add([reader.numbers(standing) for reader, standing in zip(readers, standings)]):
+        numbers = [reader.numbers(standing) for reader, standing in zip(readers, standings)]
+        if shelves.add([row for row, _ in standings], numbers):
             worths = [reader.worth(standing) for reader, standing in zip(readers, standings)]
             found.append((text, worths[0] == worths[-1]))
             if to_apart and worths[0] != worths[-1]:
                 return found
             # Behind a sum of multiples there are only sums of multiples, so nothing is read on there.
-            for number, letter in enumerate(letters):
+            for number, letter in enumerate(readers[0].reads):
                 come = [reader.read(standing, number) for reader, standing in zip(readers, standings)]
                 pending.append((text + letter, come))
     return found
@@ -75,21 +74,75 @@ def _ways(many):
     return ways
 
 
+class Shelves:
+    """Spans for the rows of numbers of texts, for one box machine or two.
+
+    Where no text leads to two rows of a machine beside one row of the other, directly or by some more of such rows,
+    numbers at the places of the one have nothing to do with those of the other: so each has a span of its own.
+    """
+
+    def __init__(self, machines):
+        roots = _brought_together(machines)
+        self._root = {}
+        self._start = {}
+        self._places = {}
+        for which, row in sorted(roots):
+            root = _root_of(roots, (which, row))
+            start = self._places.get(root, 0)
+            self._root[(which, row)] = root
+            self._start[(which, row)] = start
+            self._places[root] = start + _ways(machines[which][3][row][0])
+        self._spans = {root: Span(self._places[root]) for root in self._places}
+
+    def add(self, rows, numbers):
+        """Whether a text behind which the machines are in these rows has numbers that are no sum of multiples."""
+        root = self._root[(0, rows[0])]
+        come = [0] * self._places[root]
+        for which, (row, told) in enumerate(zip(rows, numbers)):
+            start = self._start[(which, row)]
+            come[start:start + len(told)] = told
+        return self._spans[root].add(come)
+
+
+def _brought_together(machines):
+    """A dict from all pairs of the number of a machine and of a row to such pairs.
+
+    By it just those are led to one that are brought together by texts.
+    """
+    roots = {}
+    met = {}
+    pending = [tuple([0 for _ in machines])]
+    while pending:
+        rows = pending.pop()
+        if rows not in met:
+            met[rows] = True
+            pairs = list(enumerate(rows))
+            for pair in pairs:
+                roots.setdefault(pair, pair)
+            roots[_root_of(roots, pairs[0])] = _root_of(roots, pairs[-1])
+            for number in range(len(machines[0][1])):
+                pending.append(tuple([boxes[3][row][1][number][0] for boxes, row in zip(machines, rows)]))
+    return roots
+
+
+def _root_of(roots, pair):
+    here = pair
+    while roots[here] != here:
+        here = roots[here]
+    return here
+
+
 class Reader:
     """A box machine that keeps of the text in each box the pair of its power and its worth.
 
     A standing is a pair of a row and a list of such pairs, one for each box.
     """
 
-    def __init__(self, boxes, letters, start):
+    def __init__(self, boxes, written):
         self._boxes = boxes
-        self._base = len(letters) + 1
-        self._digits = {letter: at + 1 for at, letter in enumerate(letters)}
-        self._starts = []
-        place = start
-        for many, _, _ in boxes[3]:
-            self._starts.append(place)
-            place += _ways(many)
+        self._base = len(written) + 1
+        self._digits = {letter: at + 1 for at, letter in enumerate(written)}
+        self.reads = boxes[1]
 
     def begun(self):
         """The standing ahead of all texts."""
@@ -116,10 +169,8 @@ class Reader:
         return power, worth
 
     def numbers(self, standing):
-        """The place at which the numbers of this row begin, and the list of what they leave, as a span wants it."""
-        row, held = standing
+        """The list of the row of numbers at the places of this row of the machine."""
         found = [1]
-        for power, worth in held:
-            factors = (1, power % PRIME, worth % PRIME)
-            found = [number * factor % PRIME for number in found for factor in factors]
-        return self._starts[row], found
+        for power, worth in standing[1]:
+            found = [number * factor for number in found for factor in (1, power, worth)]
+        return found

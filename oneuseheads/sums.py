@@ -1,13 +1,8 @@
 """Which rows of whole numbers are sums of multiples, by fractions, of the rows ahead of them."""
 
-from math import gcd
+from math import gcd, isqrt
 
-# Prime, and half of what is one less is prime, too: so powers of small numbers, of which rows of numbers are made,
-# leave the same only where their exponents are further apart than any that come up.
-PRIME = 1152921504606843299
-# How many digits to the base 16, and bits, hold the prime times the prime, added up 8000 times and more.
-DIGITS = 34
-BITS = 136
+from oneuseheads.residues import PRIME, Reduced, Wholes, fraction_of
 
 
 def is_no_sum(reduced, numbers):
@@ -34,61 +29,120 @@ def _without_divisor(numbers):
     return [number // max(common, 1) for number in numbers]
 
 
-def _inverse_of(number):
-    """The whole that, times number, leaves 1 when it is divided by the prime."""
-    one, other = PRIME, number
-    ones, others = 0, 1
-    while other > 1:
-        times = one // other
-        one, other = other, one - times * other
-        ones, others = others, ones - times * others
-    return others % PRIME
-
-
-def _packed(numbers):
-    """One whole that holds all numbers, the first one lowest."""
-    return int("".join([f"{number:x}".zfill(DIGITS) for number in reversed(numbers)]), 16)
-
-
-def _unpacked(packed):
-    told = f"{packed:x}"
-    return [int(told[max(0, end - DIGITS):end], 16) for end in range(len(told), 0, -DIGITS)]
-
-
 class Span:
-    """Long rows none of which is a sum of multiples of the others, however great their numbers.
+    """Long rows none of which is a sum of multiples, by fractions, of the others, however great their numbers.
 
-    Fractions would grow beyond all use, so all is done with what numbers leave when they are divided by the prime.
-    That tells the same, but where the prime divides a number that has nothing to do with it and tells rows apart.
+    What numbers leave when they are divided by the prime tells at once that a row is no sum. Where it does not, the
+    sum that it tells is taken away, and what remains is divided by the prime, again and again: it comes to nothing,
+    or the sum is told in full, if there is one; otherwise the prime tells in the end that what remains is no sum.
     """
 
-    def __init__(self):
-        self._reduced = []
+    def __init__(self, many):
+        self._many = many
+        self._wholes = Wholes(many)
+        self._reduced = Reduced(many)
+        # How many bits hold the greatest number of all, and any sum of products of numbers of unlike rows.
+        self._most_bits = 0
+        self._all_bits = 0
+        self._rules = None
+        self._rounds = 0
+        self._patience = 4
 
-    def add(self, parts):
-        """Whether a row is no sum of multiples of those added before; if so, it is added.
-
-        It is told by parts, pairs of the place at which a part begins and of what its numbers leave when they are
-        divided by the prime; between parts there are zeros.
-        """
-        left = self._reduce(parts)
-        places = [place for place, number in enumerate(left) if number != 0]
-        if not places:
+    def add(self, row):
+        """Whether a row, a list of many wholes, is no sum of multiples of those added before; if so, it is added."""
+        if len(self._wholes.rows) == self._many or self._rules is not None and _keeps(row, self._rules):
             return False
-        # The highest place, for then the rows that hold least ahead of it are the shortest.
-        place = places[-1]
-        inverse = _inverse_of(left[place])
-        self._reduced.append((place, _packed([number * inverse % PRIME for number in left[:place + 1]])))
+        left, times = self._reduced.reduce(row)
+        come = row
+        if not any(left):
+            come = self._remainder(row, times)
+            if come is None:
+                return False
+            left, times = self._reduced.reduce(come)
+        self._reduced.add(left, times)
+        # With what remains of a row in its place, the rows make the same sums, and the prime still tells them apart.
+        self._most_bits = max(self._most_bits, _bits_of(come))
+        self._all_bits += _bits_of(come) + self._many.bit_length()
+        self._wholes.make_room(self._most_bits)
+        self._wholes.add(come)
+        self._rules = None
         return True
 
-    def _reduce(self, parts):
-        """The list of what is left of the row, the rows that were added being taken away from it."""
-        rest = 0
-        for at, numbers in parts:
-            rest += _packed(numbers) << (BITS * at)
-        mask = (1 << BITS) - 1
-        for place, row in self._reduced:
-            number = ((rest >> (BITS * place)) & mask) % PRIME
+    def _remainder(self, row, times):
+        """What remains of a row that is no sum, as far as the prime tells that; None if it is one.
+
+        times are those that the prime tells.
+        """
+        self._wholes.make_room(max(self._most_bits, _bits_of(row)) + 2 * PRIME.bit_length() + self._many.bit_length())
+        most = self._all_bits + _bits_of(row) + self._many.bit_length()
+        told = [0] * len(self._wholes.rows)
+        power = 1
+        whole = self._wholes.pack(row)
+        left = []
+        rounds = 0
+        told_at = 1
+        while not any(left):
+            digits = self._digits(times)
+            told = [number + power * digit for number, digit in zip(told, digits)]
+            power *= PRIME
+            rounds += 1
+            whole = self._wholes.without(whole, digits) // PRIME
+            # No number that tells rows apart, a sum of products of theirs, is a multiple of so great a power.
+            if whole == 0 or power.bit_length() > most + 1:
+                return None
+            rest = self._wholes.unpack(whole)
+            if rounds == told_at:
+                told_at += 1 + rounds // 8
+                if self._is_told(rest, told, power):
+                    return None
+            if self._finds_rules() and _keeps(row, self._rules):
+                return None
+            left, times = self._reduced.reduce(rest)
+        return rest
+
+    def _digits(self, times):
+        """How often each row goes into what the prime tells: of the wholes that leave this those nearest to 0."""
+        return [number - PRIME if 2 * number > PRIME else number for number in self._reduced.multiples(times)]
+
+    def _is_told(self, rest, told, power):
+        """Whether what remains shows that a row is the sum of fractions of rows that they leave by a power as told."""
+        # So small that hardly any number leaves such a fraction by chance.
+        most = isqrt(power) >> 10
+        divisor = 1
+        for number in told:
+            fraction = fraction_of(number * divisor % power, power, most)
+            if fraction is None or fraction[1] * divisor > most:
+                return False
+            divisor *= fraction[1]
+        # The row is the told sum and power times what remains; the divisor makes wholes of the fractions.
+        times = [(2 * number * divisor + power) // (2 * power) for number in told]
+        if divisor.bit_length() <= PRIME.bit_length():
+            return self._wholes.without(self._wholes.pack(rest) * divisor, [-number for number in times]) == 0
+        come = [number * divisor for number in rest]
+        for number, row in zip(times, self._wholes.rows):
             if number != 0:
-                rest += (PRIME - number) * row
-        return [number % PRIME for number in _unpacked(rest)]
+                come = [mine + number * its for mine, its in zip(come, row)]
+        return not any(come)
+
+    def _finds_rules(self):
+        """Whether there are rules for all rows; they are looked for where much has been done without them."""
+        self._rounds += 1
+        if self._rules is None and self._rounds > self._patience + len(self._wholes.rows) // 8:
+            self._rounds = 0
+            rules = self._reduced.rules()
+            if rules is None or not all([_keeps(row, rules) for row in self._wholes.rows]):
+                self._patience *= 4
+            else:
+                self._rules = rules
+        return self._rules is not None
+
+
+def _bits_of(row):
+    return max([number.bit_length() for number in row])
+
+
+def _keeps(row, rules):
+    for place, divisor, parts in rules:
+        if row[place] * divisor != sum([number * row[other] for number, other in parts]):
+            return False
+    return True

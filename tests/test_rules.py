@@ -3,7 +3,7 @@
 import ast
 import unittest
 
-from test_language import read, trees
+from test_language import LIBRARY, read, trees
 
 BUILTINS = ["len", "range", "enumerate", "zip", "min", "max", "sum", "abs", "sorted", "reversed", "int", "str", "bool",
             "list", "tuple", "dict", "set", "isinstance", "ord", "repr", "any", "all", "divmod"]
@@ -58,7 +58,7 @@ class Rules(unittest.TestCase):
 
     def test_names_that_are_called(self):
         own = own_names()
-        library = ["gcd", "permutations"]
+        library = [word for words in LIBRARY.values() for word in words]
         for name, tree in trees():
             for function in [node for node in ast.walk(tree) if isinstance(node, ast.FunctionDef)]:
                 bound = {node.id for node in ast.walk(function) if isinstance(node, ast.Name) and isinstance(node.ctx, ast.Store)}
