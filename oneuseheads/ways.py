@@ -23,46 +23,88 @@ def ways_of(program):
     knot is on such a way.
     """
     head = with_tables(program)
-    many = len(end_rows(head[1]))
-    fronts = rows_of_fronts(head, MOST_TABLES)
-    rears, leads = _rears(head)
-    knots = [[] for _ in range(2 + len(fronts) * len(rears))]
-    last = by_end(head[4])
-    for right, rear in enumerate(rears):
-        # The last term is asked as a step is asked if all that is ahead goes to its result.
-        knots[BEGIN].append((2 + right, "", written_between(many, {many: 0}, last, rear)))
-    init = step_of_init(many, head[2])
-    for left, row in enumerate(fronts):
-        knots[2 + left * len(rears)].append((FINISH, "", written_between(many, row.front, init, {})))
-        for (letter, links), (goal, _), lead in zip(head[3], row.moves, leads):
-            step = by_end(links)
-            for right, rear in enumerate(rears):
-                word = written_between(many, row.front, step, rear)
-                knots[2 + left * len(rears) + lead[right]].append((2 + goal * len(rears) + right, letter, word))
-    return knots
+    return Looks(head, rows_of_fronts(head, MOST_TABLES), Rears(head, MOST_TABLES)).ways()
 
 
-def _rears(head):
-    """The list of the rears of all texts, that of the empty one first, and letter by letter the list of the numbers
-    of the rears to which each rear leads if the letter is put ahead of it."""
-    rows = end_rows(head[1])
-    steps = [by_end(links) for _, links in head[3]]
-    found = [{end: goal for end, _, goal in head[2]}]
-    numbers = {shape_of_front(found[0]): 0}
-    leads = [[] for _ in steps]
-    at = 0
-    while at < len(found):
-        for step, lead in zip(steps, leads):
-            rear = _led_rear(rows, found[at], step)
-            shape = shape_of_front(rear)
-            if shape not in numbers:
-                numbers[shape] = len(found)
-                found.append(rear)
-                if len(found) > MOST_TABLES:
-                    raise TooMany(MOST_TABLES)
-            lead.append(numbers[shape])
-        at += 1
-    return found, leads
+class Looks:
+    """The knots for all fronts and all rears that texts of a head have."""
+
+    def __init__(self, head, fronts, rears):
+        self._head = head
+        self._many = len(end_rows(head[1]))
+        self._fronts = fronts
+        self._rears = rears
+
+    def knot(self, left, right):
+        """The number of the knot of a front and a rear, told by their numbers."""
+        return 2 + left * len(self._rears.found) + right
+
+    def crossings(self):
+        """The list, knot by knot, of how many times the walk crosses the boundary there."""
+        found = [0, 0]
+        for row in self._fronts:
+            found.extend([_crossings(self._many, row.front, rear) for rear in self._rears.found])
+        return found
+
+    def ways(self):
+        """The list of the lists of ways, as ways_of tells it."""
+        rears = self._rears.found
+        knots = [[] for _ in range(2 + len(self._fronts) * len(rears))]
+        last = by_end(self._head[4])
+        for right, rear in enumerate(rears):
+            # The last term is asked as a step is asked if all that is ahead goes to its result.
+            word = written_between(self._many, {self._many: 0}, last, rear)
+            knots[BEGIN].append((self.knot(0, right), "", word))
+        init = step_of_init(self._many, self._head[2])
+        for left, row in enumerate(self._fronts):
+            word = written_between(self._many, row.front, init, {})
+            knots[self.knot(left, 0)].append((FINISH, "", word))
+            for (letter, links), (goal, _), lead in zip(self._head[3], row.moves, self._rears.leads):
+                step = by_end(links)
+                for right, rear in enumerate(rears):
+                    word = written_between(self._many, row.front, step, rear)
+                    knots[self.knot(left, lead[right])].append((self.knot(goal, right), letter, word))
+        return knots
+
+
+def _crossings(many, front, rear):
+    """How many times a walk crosses the boundary between a front and a rear, for a kind with many ends."""
+    number = 0
+    goal = front[many]
+    while goal is not None:
+        number += 1
+        goal = rear[goal]
+        if goal is not None:
+            number += 1
+            goal = front[goal]
+    return number
+
+
+class Rears:
+    """All rears of texts: found is the list of them, that of the empty text first; leads is, letter by letter, the
+    list of the numbers of the rears to which each rear leads if the letter is put ahead of it.
+
+    Raises TooMany if they are more than most.
+    """
+
+    def __init__(self, head, most):
+        rows = end_rows(head[1])
+        steps = [by_end(links) for _, links in head[3]]
+        self.found = [{end: goal for end, _, goal in head[2]}]
+        self.leads = [[] for _ in steps]
+        numbers = {shape_of_front(self.found[0]): 0}
+        at = 0
+        while at < len(self.found):
+            for step, lead in zip(steps, self.leads):
+                rear = _led_rear(rows, self.found[at], step)
+                shape = shape_of_front(rear)
+                if shape not in numbers:
+                    numbers[shape] = len(self.found)
+                    self.found.append(rear)
+                    if len(self.found) > most:
+                        raise TooMany(most)
+                lead.append(numbers[shape])
+            at += 1
 
 
 def _led_rear(rows, rear, step):

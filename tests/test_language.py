@@ -34,6 +34,14 @@ INTERFACE = {
     "bounds": ["least_written(program, letter)", "most_written(program, letter)", "text_with(program, letter, many)",
                "never_written(program)", "always_written(program)", "bounded_letters(program)"],
     "held": ["Held(program, text)"],
+    "desk": ["Desk(program, text='')", "replayed(program, text, journal)"],
+    "finding": ["is_pattern(value)", "filled(pattern, kinds)", "fits(pattern, kind)", "principal(bare)", "dressed(bare, kind)",
+                "told_by(pattern)", "links_of(pattern)"],
+    "shapes": ["shape_of(kind, table)", "is_shape(kind, value)", "plain_shape(kind)", "joined(kind, one, other)",
+               "stretch_shape(program, text)", "shapes(program)", "powers(program, text)", "turned_round(program)",
+               "groups(program)"],
+    "growth": ["longest(program, many)", "shortest(program, many)", "most_crossed(program, many)", "greatest_rate(program)",
+               "least_rate(program)"],
 }
 METHODS = {
     ("walks", "Token"): ["is_over(self)", "step(self)", "back(self)", "written(self)", "crossings(self)"],
@@ -41,6 +49,7 @@ METHODS = {
                        "take_out(self, at, many)", "exchange(self, at, letter)", "copy(self)", "written(self)",
                        "piece(self, begin, end)", "origin(self, spot)", "spots(self, place)", "unread(self)",
                        "cuts(self, at)", "ahead(self, at)", "behind(self, at)"],
+    ("desk", "Desk"): ["journal(self)", "say(self, line)"],
 }
 SIZED = (ast.FunctionDef, ast.ClassDef)
 LIBRARY = {"math": ["gcd", "lcm", "isqrt"], "itertools": ["product", "combinations", "permutations"]}
