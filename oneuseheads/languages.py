@@ -30,18 +30,18 @@ def _are_states(value, many):
     return isinstance(value, tuple) and all([is_below(state, many) for state in value])
 
 
-def _need_machine(machine):
+def need_machine(machine):
     if not is_machine(machine):
         raise BadMachine("this is no machine")
 
 
 def _need_text_of(machine, text):
-    _need_machine(machine)
+    need_machine(machine)
     if not is_text_of(machine[1], text):
         raise BadText("this is no text of the machine's letters")
 
 
-def _moves(machine):
+def moves_of(machine):
     """A dict from each letter to the list of the states to which it leads from each state."""
     _, letters, rows, _ = machine
     return {letter: [row[at] for row in rows] for at, letter in enumerate(letters)}
@@ -50,7 +50,7 @@ def _moves(machine):
 def lets(machine, text):
     """Whether machine lets text."""
     _need_text_of(machine, text)
-    moves = _moves(machine)
+    moves = moves_of(machine)
     state = 0
     for letter in text:
         state = moves[letter][state]
@@ -60,7 +60,7 @@ def lets(machine, text):
 def led_on(machine, text):
     """The list of the states to which text leads from each state."""
     _need_text_of(machine, text)
-    moves = _moves(machine)
+    moves = moves_of(machine)
     states = list(range(len(machine[2])))
     for letter in text:
         leads = moves[letter]
@@ -76,13 +76,13 @@ def _goodness(machine):
 
 def least_machine(machine):
     """The machine of fewest states that lets the same texts."""
-    _need_machine(machine)
+    need_machine(machine)
     return least_of(machine[1], machine[2], _goodness(machine), MOST_STATES)
 
 
 def contrary(machine):
     """The least machine that lets just the other texts."""
-    _need_machine(machine)
+    need_machine(machine)
     return least_of(machine[1], machine[2], [not told for told in _goodness(machine)], MOST_STATES)
 
 
@@ -90,8 +90,8 @@ def combined(word, one, other):
     """The least machine that lets what both let, what either lets, or what the first one alone lets."""
     if not isinstance(word, str) or word not in ("both", "either", "first"):
         raise BadWord("this is none of the words for what comes of two machines")
-    _need_machine(one)
-    _need_machine(other)
+    need_machine(one)
+    need_machine(other)
     if one[1] != other[1]:
         raise OtherLetters("these machines have unlike letters")
     return _combined(word, least_machine(one), least_machine(other))
@@ -127,7 +127,7 @@ def _is_let(word, one, other):
 
 def first_text(machine):
     """The first text, by length and then ascending, that machine lets; None if there is none."""
-    _need_machine(machine)
+    need_machine(machine)
     _, letters, rows, good = machine
     texts = {0: ""}
     order = [0]
@@ -146,7 +146,7 @@ def first_text(machine):
 
 def texts_of_length(machine, length):
     """How many texts with so many letters machine lets."""
-    _need_machine(machine)
+    need_machine(machine)
     if not is_below(length, MOST_LENGTH + 1):
         raise BadNumber("this is no length from 0 to 1000")
     ways = {0: 1}

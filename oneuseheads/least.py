@@ -1,4 +1,4 @@
-"""The machine of fewest states that lets the same texts: states are put together that lead on alike."""
+"""The fewest states that tell the same of all texts: states are put together that lead on alike."""
 
 from oneuseheads.errors import TooMany
 
@@ -8,13 +8,26 @@ def least_of(letters, rows, good, most):
 
     Raises TooMany if it has more than most states; rows may be more.
     """
+    moves, told = least_told(rows, good, most)
+    return ("machine", letters, moves, tuple([state for state, sign in enumerate(told) if sign]))
+
+
+def least_told(rows, told, most):
+    """The least rows that tell the same: the tuple of the tuples of goals, and the tuple of what is told of each.
+
+    told is the list of what is told of rows. States are numbered as a walk from the first one meets them. Raises
+    TooMany if they are more than most.
+    """
     order = _states_met(rows, 0)
     places = {state: at for at, state in enumerate(order)}
     met = [[places[goal] for goal in rows[state]] for state in order]
-    classes = _classes(met, [good[state] for state in order], most)
+    classes = _classes(met, [told[state] for state in order], most)
     leads = {classes[at]: [classes[goal] for goal in row] for at, row in enumerate(met)}
-    lets = {classes[at]: good[state] for at, state in enumerate(order)}
-    return _numbered(letters, leads, lets, classes[0])
+    signs = {classes[at]: told[state] for at, state in enumerate(order)}
+    come = _states_met(leads, classes[0])
+    numbers = {state: at for at, state in enumerate(come)}
+    moves = tuple([tuple([numbers[goal] for goal in leads[state]]) for state in come])
+    return moves, tuple([signs[state] for state in come])
 
 
 def _states_met(rows, first):
@@ -32,17 +45,9 @@ def _states_met(rows, first):
     return order
 
 
-def _numbered(letters, leads, lets, first):
-    """The machine with these states, told by dicts, numbered as a walk from the first one meets them."""
-    order = _states_met(leads, first)
-    places = {state: at for at, state in enumerate(order)}
-    rows = tuple([tuple([places[goal] for goal in leads[state]]) for state in order])
-    return ("machine", letters, rows, tuple([at for at, state in enumerate(order) if lets[state]]))
-
-
-def _classes(rows, good, most):
-    """A list with the number of the class of each state: states of one class let the same texts from there on."""
-    members, numbers = _first_classes(good)
+def _classes(rows, told, most):
+    """A list with the number of the class of each state: from states of one class on the same is told."""
+    members, numbers = _first_classes(told)
     befores = [_states_before(rows, at) for at in range(len(rows[0]))]
     pending = list(range(len(members)))
     waits = {number: True for number in pending}
@@ -61,14 +66,11 @@ def _classes(rows, good, most):
     return numbers
 
 
-def _first_classes(good):
-    """The classes, as dicts from states to True, of the good states and of the others, and the number of each state."""
-    members = []
-    for sign in (True, False):
-        found = {state: True for state, told in enumerate(good) if told == sign}
-        if found:
-            members.append(found)
-    return members, [0 if state in members[0] else 1 for state in range(len(good))]
+def _first_classes(told):
+    """The classes, as dicts from states to True, of which unlike things are told, and the number of each state."""
+    signs = sorted(set(told))
+    members = [{state: True for state, sign in enumerate(told) if sign == one} for one in signs]
+    return members, [signs.index(sign) for sign in told]
 
 
 def _states_before(rows, at):

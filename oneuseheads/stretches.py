@@ -101,8 +101,8 @@ class Stretches:
         self.texts = [""]
         self.links = [marker.plain]
         self.moves = []
-        # For each but the first one, the number of its stretch without the last letter, and this letter's place.
-        self._begins = []
+        # For each but the first one, the number of its stretch without the last letter, and the place of this letter.
+        self.begins = []
         numbers = {key_of(marker.plain): 0}
         while len(self.moves) < len(self.texts):
             at = len(self.moves)
@@ -119,14 +119,14 @@ class Stretches:
     def _add(self, text, links, begin):
         self.texts.append(text)
         self.links.append(links)
-        self._begins.append(begin)
+        self.begins.append(begin)
         if len(self.texts) > MOST_SHAPES:
             raise TooMany(MOST_SHAPES)
 
     def products(self, number):
         """The list of the numbers of what this one and behind it each one comes to."""
         come = [number]
-        for begin, place in self._begins:
+        for begin, place in self.begins:
             come.append(self.moves[come[begin]][place])
         return come
 

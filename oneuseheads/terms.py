@@ -107,12 +107,13 @@ def need_term(term):
 def kind_of(term, names=()):
     """The kind that term has for names, a list of pairs of a name and a kind; None if it has none."""
     need_term(term)
-    if not _are_names(names):
+    if not are_names(names):
         raise BadNames("this is no list of names with their kinds")
     return kind_within(term, {name: kind for name, kind in names})
 
 
-def _are_names(value):
+def are_names(value):
+    """Whether value is a list of pairs of a name and a kind, no name twice."""
     if not isinstance(value, (list, tuple)):
         return False
     told = {}

@@ -42,6 +42,14 @@ INTERFACE = {
                "groups(program)"],
     "growth": ["longest(program, many)", "shortest(program, many)", "most_crossed(program, many)", "greatest_rate(program)",
                "least_rate(program)"],
+    "images": ["writes_into(program, machine)", "leads(program, one, other)"],
+    "order": ["is_ordered(term)", "is_ordered_program(program)", "line(kind)", "crossing(kind, table)"],
+    "parting": ["is_surroundings(kind, value)", "put_in(kind, surroundings, term)", "written_in(kind, surroundings, term)",
+                "parted(kind, one, other)"],
+    "signs": ["sign(program, text, which)", "sign_machine(program, which)", "turning(program, which)",
+              "is_turning(program, which, value)"],
+    "wording": ["worded(term)", "program_worded(program)", "read(wording, names=(), kind=None)",
+                "completed(wording, names=(), kind=None)", "offers(wording, names=(), kind=None)", "read_program(wording)"],
 }
 METHODS = {
     ("walks", "Token"): ["is_over(self)", "step(self)", "back(self)", "written(self)", "crossings(self)"],
