@@ -9,7 +9,7 @@ PRIME = 1152921504606843299
 DIGITS = 34
 BITS = 136
 # A fraction is told from what it leaves only if it is as small as hardly any other number can be by chance.
-MOST_PART = 1 << 20
+MOST_PART = 1048576
 
 
 def inverse_of(number):
@@ -25,7 +25,8 @@ def inverse_of(number):
 
 def packed(numbers):
     """One whole that holds what all numbers leave, the first one lowest."""
-    return int("0" + "".join([f"{number % PRIME:x}".zfill(DIGITS) for number in reversed(numbers)]), 16)
+    left = [number % PRIME for number in reversed(numbers)]
+    return int("0" + "".join([f"{number:x}".zfill(DIGITS) for number in left]), 16)
 
 
 def unpacked(whole, many):

@@ -139,17 +139,15 @@ class Signer:
 
     def text_to(self, state):
         """A shortest text that leads to a state."""
-        for text, leads in zip(self.stretches.texts, self.leads):
-            if leads[0] == state:
-                return text
-        return None
+        return [text for text, leads in zip(self.stretches.texts, self.leads) if leads[0] == state][0]
 
     def text_that_parts(self, one, other):
         """A shortest text behind which unlike signs are told of two states."""
+        found = []
         for text, leads in zip(self.stretches.texts, self.leads):
             if self.signs[leads[one]] != self.signs[leads[other]]:
-                return text
-        return None
+                found.append(text)
+        return found[0]
 
 
 def _marked(head, marker, links):

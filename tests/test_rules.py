@@ -128,6 +128,14 @@ class Rules(unittest.TestCase):
                     self.assertIsInstance(default, (ast.Constant, ast.Tuple), name)
                 self.assertFalse(node.vararg or node.kwarg or node.kwonlyargs or node.posonlyargs, name)
 
+    def test_strings_with_expressions(self):
+        for name, tree in trees():
+            for node in ast.walk(tree):
+                if isinstance(node, ast.JoinedStr):
+                    told = ast.get_source_segment(read(name), node)
+                    self.assertFalse(any(sign in told for sign in "%#\\"), (name, node.lineno))
+                    self.assertTrue(told.startswith('f"') and told.count('"') == 2 and told.count("'") % 2 == 0, (name, node.lineno))
+
     def test_stars_stand_in_lists_tuples_and_calls_of_own_functions(self):
         own = own_names()
         for name, around, node in nodes():
