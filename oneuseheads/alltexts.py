@@ -38,7 +38,7 @@ def _searched(one, other, to_apart):
     # Numbers that stand there twice tell no more than once.
     if machines[0] == machines[1]:
         machines = machines[:1]
-    return _basis([Reader(boxes, written) for boxes in machines], Shelves(machines), to_apart)
+    return _basis([BoxReader(boxes, written) for boxes in machines], Shelves(machines), to_apart)
 
 
 def _basis(readers, shelves, to_apart):
@@ -132,7 +132,7 @@ def _root_of(roots, pair):
     return here
 
 
-class Reader:
+class BoxReader:
     """A box machine that keeps of the text in each box the pair of its power and its worth.
 
     A standing is a pair of a row and a list of such pairs, one for each box.

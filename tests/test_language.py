@@ -5,6 +5,7 @@ import builtins
 import inspect
 import os
 import unittest
+from functools import cache
 from importlib import import_module
 
 FOLDER = os.path.join(os.path.dirname(os.path.dirname(os.path.abspath(__file__))), "oneuseheads")
@@ -72,6 +73,7 @@ def read(name):
         return file.read()
 
 
+@cache
 def trees():
     return [(name, ast.parse(read(name))) for name in files() if name.endswith(".py")]
 
