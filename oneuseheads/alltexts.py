@@ -49,7 +49,7 @@ def _basis(readers, shelves, to_apart):
         text, standings = pending[at]
         at += 1
         numbers = [reader.numbers(standing) for reader, standing in zip(readers, standings)]
-        if shelves.add([row for row, _ in standings], numbers):
+        if shelves.takes_in([row for row, _ in standings], numbers):
             worths = [reader.worth(standing) for reader, standing in zip(readers, standings)]
             found.append((text, worths[0] == worths[-1]))
             if to_apart and worths[0] != worths[-1]:
@@ -94,7 +94,7 @@ class Shelves:
             self._places[root] = start + _ways(machines[which][3][row][0])
         self._spans = {root: Span(self._places[root]) for root in self._places}
 
-    def add(self, rows, numbers):
+    def takes_in(self, rows, numbers):
         """Whether a text behind which the machines are in these rows has numbers that are no sum of multiples."""
         root = self._root[(0, rows[0])]
         come = [0] * self._places[root]

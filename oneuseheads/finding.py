@@ -128,7 +128,7 @@ def told_by(pattern):
     ends = [number for _, number in signed_ends(pattern)]
     if any([ends.count(number) > 2 for number in ends]):
         return None
-    bare = Teller().read(pattern, {}, MOST_ROW)
+    bare = Teller().told(pattern, {}, MOST_ROW)
     if bare is None or weighed(bare, MOST_ROW, True) is None or principal(bare) != pattern:
         return None
     return bare
@@ -140,7 +140,7 @@ class Teller:
     def __init__(self):
         self._bound = 0
 
-    def read(self, pattern, in_sight, row):
+    def told(self, pattern, in_sight, row):
         """The bare term with at most row nodes in a row, None if there is none.
 
         in_sight tells, for the n with which the pattern of a thing ends, its name and the patterns that it is handed.
@@ -170,7 +170,7 @@ class Teller:
         rest = {other: things[other] for other in things if other != end}
         come = ("name", name)
         for at, part in enumerate(handed):
-            inner = self.read(part, rest, row - len(handed) + at)
+            inner = self.told(part, rest, row - len(handed) + at)
             if inner is None:
                 return None
             come = ("call", come, inner)

@@ -34,7 +34,7 @@ def most_crossed(program, many):
     _need_many(many)
     looks = _looks(program)
     crossings = looks.crossings()
-    knots = [[(goal, read, crossings[goal]) for goal, read, _ in ways] for ways in looks.ways()]
+    knots = [[(goal, read, crossings[goal]) for goal, read, _ in ways] for ways in looks.lists_of_ways()]
     return _first_greatest(knots, many)
 
 
@@ -54,7 +54,7 @@ def _looks(program):
 
 def _written(looks, sign):
     """The knots of looks, each way with sign times how many letters are written on it."""
-    return [[(goal, read, sign * len(word)) for goal, read, word in ways] for ways in looks.ways()]
+    return [[(goal, read, sign * len(word)) for goal, read, word in ways] for ways in looks.lists_of_ways()]
 
 
 def _first_greatest(knots, many):

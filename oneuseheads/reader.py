@@ -287,8 +287,8 @@ class Reader:
         """What can stand next."""
         return self._frames[-1].expected() if self._frames else Expected(())
 
-    def take(self, word):
-        """Takes a word or a bracket that can stand next."""
+    def read_word(self, word):
+        """Reads a word or a bracket that can stand next."""
         self._frames[-1].take(self, word)
 
     def can_take(self, word):

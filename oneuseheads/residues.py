@@ -115,7 +115,7 @@ class Reduced:
                 rest += (PRIME - number) * row
         return unpacked(rest, self._many), times
 
-    def add(self, left, times):
+    def add_left(self, left, times):
         """Adds the row of which left is left, and not nothing."""
         # The highest place, for then the rows that hold least ahead of it are the shortest.
         place = max([at for at, number in enumerate(left) if number != 0])

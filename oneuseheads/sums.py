@@ -59,7 +59,7 @@ class Span:
             if come is None:
                 return False
             left, times = self._reduced.reduce(come)
-        self._reduced.add(left, times)
+        self._reduced.add_left(left, times)
         # With what remains of a row in its place, the rows make the same sums, and the prime still tells them apart.
         self._most_bits = max(self._most_bits, _bits_of(come))
         self._all_bits += _bits_of(come) + self._many.bit_length()

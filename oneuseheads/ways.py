@@ -23,7 +23,7 @@ def ways_of(program):
     knot is on such a way.
     """
     head = with_tables(program)
-    return Looks(head, rows_of_fronts(head, MOST_TABLES), Rears(head, MOST_TABLES)).ways()
+    return Looks(head, rows_of_fronts(head, MOST_TABLES), Rears(head, MOST_TABLES)).lists_of_ways()
 
 
 class Looks:
@@ -46,7 +46,7 @@ class Looks:
             found.extend([_crossings(self._many, row.front, rear) for rear in self._rears.found])
         return found
 
-    def ways(self):
+    def lists_of_ways(self):
         """The list of the lists of ways, as ways_of tells it."""
         rears = self._rears.found
         knots = [[] for _ in range(2 + len(self._fronts) * len(rears))]

@@ -81,11 +81,11 @@ def _read_on(reader, wording):
                 return word
             if end == len(wording) or not reader.can_take(word):
                 raise BadSigns(at + reader.longest(word))
-            reader.take(word)
+            reader.read_word(word)
         elif sign in ("(", ")"):
             if not reader.can_take(sign):
                 raise BadSigns(at)
-            reader.take(sign)
+            reader.read_word(sign)
         elif sign not in BLANKS:
             raise BadSigns(at)
         at = end
@@ -103,7 +103,7 @@ def _read_whole(reader, wording):
     """Raises BadSigns unless wording is a right one."""
     word = _read_on(reader, wording)
     if word != "" and reader.can_take(word):
-        reader.take(word)
+        reader.read_word(word)
     elif word != "":
         raise BadSigns(len(wording))
     if not reader.is_done():
@@ -127,11 +127,11 @@ def completed(wording, names=(), kind=None):
     after_word = begun != ""
     if begun != "":
         word = reader.word_from(begun)
-        reader.take(word)
+        reader.read_word(word)
         parts.append(word[len(begun):])
     while not reader.is_done():
         word = reader.next_word()
-        reader.take(word)
+        reader.read_word(word)
         is_word = is_letter(word[0])
         # Between two words there must be a blank.
         if is_word and after_word:
@@ -149,7 +149,7 @@ def offers(wording, names=(), kind=None):
     if begun != "":
         if not reader.can_take(begun):
             return sorted(set(found))
-        reader.take(begun)
+        reader.read_word(begun)
     found.extend([sign for sign in ("(", ")") if reader.can_take(sign)])
     return sorted(set([*found, *BLANKS]))
 
