@@ -60,8 +60,8 @@ def _first_parted(machines, letter):
     while at < len(pending):
         text, standings = pending[at]
         at += 1
-        rows = tuple([row for row, _ in standings])
-        if is_no_sum(reduced.setdefault(rows, []), [1, *standings[0][1], *standings[1][1]]):
+        (first, ones), (second, others) = standings
+        if is_no_sum(reduced.setdefault((first, second), []), [1, *ones, *others]):
             one, other = [_written(boxes, standing, letter) for boxes, standing in zip(machines, standings)]
             if one != other:
                 return text

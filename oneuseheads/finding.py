@@ -72,12 +72,14 @@ def _asked_of(bare, names, asked):
     That is a tuple with the number of the kind of each part behind it; a fun has that of what it binds, too.
     """
     if bare[0] == "name":
-        return names[bare[1]], (*bare, names[bare[1]])
+        number = names[bare[1]]
+        return number, (*bare, number)
     if bare[0] == "fun":
+        _, name, inner = bare
         bound = asked.opened()
-        result, body = _asked_of(bare[2], {**names, bare[1]: bound}, asked)
+        result, body = _asked_of(inner, {**names, name: bound}, asked)
         kind = asked.function(bound, result)
-        return kind, ("fun", bare[1], bound, body, kind)
+        return kind, ("fun", name, bound, body, kind)
     caller, one = _asked_of(bare[1], names, asked)
     handed, other = _asked_of(bare[2], names, asked)
     result = asked.opened()

@@ -60,9 +60,9 @@ def _image(program, machine):
     rows = end_rows(head[1])
     steps = [by_end(links) for _, links in head[3]]
     doings = Doings(least_machine(machine), len(rows))
-    first = first_front(head)
-    fronts = [(first, {end: doings.at_end(end, [word], {}) for end, word, _ in head[4]})]
-    numbers = {_key(*fronts[0]): 0}
+    begun = (first_front(head), {end: doings.at_end(end, [word], {}) for end, word, _ in head[4]})
+    fronts = [begun]
+    numbers = {_key(*begun): 0}
     moves = []
     while len(moves) < len(fronts):
         front, held = fronts[len(moves)]

@@ -153,10 +153,10 @@ def _with_words(term, words):
         for letter in reversed(words.get(term[1], term[1])):
             come = ("put", letter, come)
         return come
-    come = term
+    come = list(term)
     for index in INSIDE[term[0]]:
-        come = (*come[:index], _with_words(term[index], words), *come[index + 1:])
-    return come
+        come[index] = _with_words(term[index], words)
+    return tuple(come)
 
 
 def read_as(program, words):

@@ -70,7 +70,7 @@ def may_write(program):
     """The text of the letters, ascending, of all puts in the terms of what is known to be a program."""
     _, _, init, steps, last = program
     found = {}
-    for term in [init, *[step for _, step in steps], last]:
+    for term in [init, last] + [step for _, step in steps]:
         for _, part in parts_in(term):
             if part[0] == "put":
                 found[part[1]] = True
@@ -102,7 +102,7 @@ def _need_small(program, text):
     if told + len(parts_in(program[4])) + len(parts_in(program[2])) + len(text) + 1 > MOST_NODES:
         raise TooMany(MOST_NODES)
     rows = {letter: row_in(step) for letter, step in program[3]}
-    called = [row_in(program[4]), *[rows[letter] for letter in text]]
+    called = [row_in(program[4])] + [rows[letter] for letter in text]
     deepest = max([place + 1 + row for place, row in enumerate(called)])
     if max(deepest, len(called) + row_in(program[2])) > MOST_ROW:
         raise TooMany(MOST_ROW)

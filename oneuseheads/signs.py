@@ -160,4 +160,4 @@ def _marked(head, marker, links):
 
 
 def _with_marks(links):
-    return tuple([(end, *links[end]) for end in sorted(links)])
+    return tuple([(end, links[end][0], links[end][1]) for end in sorted(links)])

@@ -82,7 +82,7 @@ class Marker:
 
 def key_of(links):
     """The tuple that tells marked links."""
-    return tuple([(end, *links[end]) for end in sorted(links)])
+    return tuple([(end, links[end][0], links[end][1]) for end in sorted(links)])
 
 
 def shape_of_marked(links):

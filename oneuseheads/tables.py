@@ -196,9 +196,10 @@ def _laid(term, names, wires):
     if word == "name":
         return names[term[1]]
     if word == "fun":
-        bound = wires.new_places(term[2])
-        kind, places = _laid(term[3], {**names, term[1]: (term[2], bound)}, wires)
-        return ("to", term[2], kind), bound + places
+        _, name, told, body = term
+        bound = wires.new_places(told)
+        kind, places = _laid(body, {**names, name: (told, bound)}, wires)
+        return ("to", told, kind), bound + places
     if word == "call":
         kind, places = _laid(term[1], names, wires)
         _, handed = _laid(term[2], names, wires)

@@ -141,10 +141,11 @@ def kind_within(term, kinds):
 
 
 def _kind_of_fun(term, kinds):
-    result = kind_within(term[3], {**kinds, term[1]: term[2]})
+    _, name, told, body = term
+    result = kind_within(body, {**kinds, name: told})
     if result is None:
         return None
-    kind = ("to", term[2], result)
+    kind = ("to", told, result)
     return kind if count_ends(kind) <= MOST_ENDS else None
 
 
@@ -170,7 +171,7 @@ def free_in(term):
         if part[0] == "name" and part[1] not in bound:
             found[part[1]] = True
         if part[0] == "fun":
-            bound = (*bound, part[1])
+            bound = bound + (part[1],)
         pending.extend([(part[index], bound) for index in INSIDE[part[0]]])
     return sorted(found)
 
@@ -244,8 +245,9 @@ def exchanged(term, path, part):
         around.append(around[-1][index])
     come = part
     for depth in reversed(range(len(path))):
-        index = path[depth]
-        come = (*around[depth][:index], come, *around[depth][index + 1:])
+        parts = list(around[depth])
+        parts[path[depth]] = come
+        come = tuple(parts)
     return come
 
 
@@ -298,8 +300,10 @@ def _same(one, other, ones, others, depth):
     if word == "put" and one[1] != other[1]:
         return False
     if word == "fun":
-        if one[2] != other[2]:
+        _, name, told, _ = one
+        _, beside, asked, _ = other
+        if told != asked:
             return False
-        ones = {**ones, one[1]: depth}
-        others = {**others, other[1]: depth}
+        ones = {**ones, name: depth}
+        others = {**others, beside: depth}
     return all([_same(one[index], other[index], ones, others, depth + 1) for index in INSIDE[word]])

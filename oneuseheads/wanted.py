@@ -71,7 +71,8 @@ def want_within(want, kind):
     """What is wanted of the body of a function that is wanted, if this is the kind of what it binds."""
     bounds, tail = want
     if len(bounds) > 1:
-        return (min(bounds[1], bounds[0] - count_ends(kind)), *bounds[2:]), tail
+        most, next_most, *others = bounds
+        return (min(next_most, most - count_ends(kind)), *others), tail
     if tail is None:
         return (bounds[0] - count_ends(kind),), None
     return want_of(tail[2])

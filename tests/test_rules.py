@@ -38,6 +38,46 @@ def is_call_of(node, names):
     return isinstance(node, ast.Call) and isinstance(node.func, ast.Name) and node.func.id in names
 
 
+def is_plain(node):
+    """Whether node is what may stand behind a star and beside two: a name, an attribute off a name, a literal, or such."""
+    if isinstance(node, ast.Starred):
+        return is_plain(node.value)
+    if isinstance(node, (ast.List, ast.Tuple)):
+        return all(is_plain(part) for part in node.elts)
+    if isinstance(node, ast.Dict):
+        return all(part is None or is_plain(part) for part in node.keys + node.values)
+    return isinstance(node, (ast.Name, ast.Constant)) or is_name_or_attribute(node)
+
+
+def is_name_or_attribute(node):
+    return isinstance(node, ast.Name) or (isinstance(node, ast.Attribute) and isinstance(node.value, ast.Name))
+
+
+def behind_stars(tree):
+    """All that stands behind a star, and also all that follows one in the same call, list or tuple."""
+    for node in ast.walk(tree):
+        parts = []
+        if isinstance(node, ast.Call):
+            parts = node.args + [keyword.value for keyword in node.keywords]
+        elif isinstance(node, (ast.List, ast.Tuple)):
+            parts = node.elts
+        stars = [at for at, part in enumerate(parts) if isinstance(part, ast.Starred)]
+        if stars:
+            yield from parts[stars[0]:]
+
+
+def beside_two_stars(tree):
+    """All pairs of what stands behind two stars and the list of what stands beside them."""
+    for node in ast.walk(tree):
+        if isinstance(node, ast.Dict):
+            beside = [key for key in node.keys if key is not None]
+            beside += [value for key, value in zip(node.keys, node.values) if key is not None]
+            yield from [(value, beside) for key, value in zip(node.keys, node.values) if key is None]
+        elif isinstance(node, ast.Call):
+            for told in [keyword for keyword in node.keywords if keyword.arg is None]:
+                yield told.value, node.args + [keyword for keyword in node.keywords if keyword is not told]
+
+
 def own_names():
     """The names of all functions, classes and methods of the package, and of what its functions bind."""
     return {node.name for _, _, node in nodes() if isinstance(node, (ast.FunctionDef, ast.ClassDef))}
@@ -144,6 +184,27 @@ class Rules(unittest.TestCase):
             if isinstance(node, ast.Starred):
                 in_call = isinstance(around, ast.Call) and is_call_of(around, own)
                 self.assertTrue(isinstance(around, (ast.List, ast.Tuple)) or in_call, (name, node.lineno))
+
+    def test_what_stands_behind_stars(self):
+        for name, tree in trees():
+            for part in behind_stars(tree):
+                self.assertTrue(is_plain(part), (name, part.lineno))
+            for value, beside in beside_two_stars(tree):
+                self.assertTrue(is_name_or_attribute(value), (name, value.lineno))
+                self.assertTrue(all(is_plain(part) for part in beside), (name, value.lineno))
+
+    def test_what_the_test_above_lets_and_refuses(self):
+        for line in ("f(*xs)", "f(k[0], *xs, n, sep=n)", "f(*box.rows, *(1, n))", "[*xs, 1]", "(k[0], *xs)", "(*xs, (n, 'a'))"):
+            self.assertTrue(all(map(is_plain, behind_stars(ast.parse(line)))), line)
+        for line in ("f(*xs[0])", "f(*g(xs))", "f(*xs[1:])", "f(*a.b.c)", "f(*(xs + ys))", "f(*[x for x in xs])", "f(*xs, n[0])",
+                     "f(*xs, k=n[0])", "f(*(n, xs[0]))", "[*xs[0], 1]", "(1, *g(xs))", "(*xs, n[0])", "f(*(a if c else b))"):
+            self.assertFalse(all(map(is_plain, behind_stars(ast.parse(line)))), line)
+        for line in ("f(**d)", "f(n, **box.d)", "{**d, 'a': 1}", "{**d, name: (n, m)}"):
+            for value, beside in beside_two_stars(ast.parse(line)):
+                self.assertTrue(is_name_or_attribute(value) and all(map(is_plain, beside)), line)
+        for line in ("f(**d[0])", "f(n[0], **d)", "f(k=1, **d)", "f(**d, **e)", "{**d[0]}", "{**d, a[0]: 1}", "{**d, 'a': g(1)}"):
+            found = list(beside_two_stars(ast.parse(line)))
+            self.assertFalse(all(is_name_or_attribute(value) and all(map(is_plain, beside)) for value, beside in found), line)
 
     def test_keywords_of_builtins(self):
         allowed = {"sorted": ["key", "reverse"], "min": ["key", "default"], "max": ["key", "default"]}
